@@ -1,0 +1,1 @@
+"""Goalsmith: goals, workers, and papers that a small reader reads."""

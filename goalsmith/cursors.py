@@ -1,0 +1,54 @@
+"""A text that is read from the left, sign by sign."""
+
+from goalsmith.errors import NoText
+from goalsmith.names import LETTERS, is_name
+
+
+class Cursor:
+    """A text and the place down to which it is read; what stands otherwise than told is refused with NoText."""
+
+    def __init__(self, text):
+        if not isinstance(text, str):
+            raise NoText("this is no text")
+        self._text = text
+        self._at = 0
+
+    def is_at_end(self):
+        """Whether all is read."""
+        return self._at == len(self._text)
+
+    def word_ahead(self):
+        """All small letters from the place on; they are not yet read."""
+        end = self._at
+        while end < len(self._text) and self._text[end] in LETTERS:
+            end += 1
+        return self._text[self._at:end]
+
+    def sign_ahead(self):
+        """The one sign at the place, not yet read; at the end the text without signs."""
+        return self._text[self._at:self._at + 1]
+
+    def passes(self, signs):
+        """Read these signs, where they stand at the place; tell whether they do."""
+        if not self._text.startswith(signs, self._at):
+            return False
+        self._at += len(signs)
+        return True
+
+    def need(self, signs):
+        """Read these signs, which must stand at the place."""
+        if not self.passes(signs):
+            raise NoText("other signs stand here than are due")
+
+    def need_end(self):
+        """All must be read."""
+        if not self.is_at_end():
+            raise NoText("more signs stand here than are due")
+
+    def name(self):
+        """Read a name."""
+        word = self.word_ahead()
+        if not is_name(word):
+            raise NoText("a name is due here")
+        self._at += len(word)
+        return word

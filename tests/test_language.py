@@ -1,0 +1,183 @@
+"""The rules of shared/LANGUAGE.md that a short test can see, and the interface of DOC.md as far as it is built."""
+
+import ast
+import builtins
+import inspect
+import pathlib
+import unittest
+from importlib import import_module
+
+FOLDER = pathlib.Path(__file__).resolve().parent.parent / "goalsmith"
+FILES = sorted(path for path in FOLDER.iterdir() if path.name != "__pycache__")
+TREES = {path.stem: ast.parse(path.read_text(encoding="utf-8")) for path in FILES}
+
+BUILTINS = (
+    "len range enumerate zip min max sum abs sorted reversed int str bool list tuple dict set isinstance ord repr"
+    " any all divmod map super Exception ValueError TypeError KeyError IndexError LookupError"
+).split()
+METHODS = (
+    "append clear copy count endswith extend find get index insert isalnum isalpha isdigit islower isspace isupper"
+    " items join keys ljust lower lstrip partition pop remove replace reverse rfind rjust rpartition rsplit rstrip"
+    " setdefault split splitlines startswith strip update upper values zfill bit_length add discard"
+).split()
+BARRED = (
+    "register mro elements open input law version_info with_traceback add_note attrgetter breakpoint builtins compile"
+    " copyright credits delattr dir eval exec exit gc getattr globals hasattr help id importlib license locals"
+    " methodcaller os quit setattr type vars"
+).split()
+STATEMENTS = (ast.Global, ast.AsyncFunctionDef, ast.AsyncFor, ast.AsyncWith, ast.Await, ast.Try, ast.With, ast.Import)
+
+INTERFACE = {
+    "errors": {"SmithError": None, "NoGround": None, "NoText": None, "NoData": None, "TooMany": None, "TooFar": None,
+               "NoRule": None, "NoGoal": None, "Fails": None, "NotFalling": None, "NoRewrite": None,
+               "NoRow": "at", "BadText": "at", "Taken": "at", "NoName": "at", "Unfit": "at", "Left": "at goals"},
+    "terms": {"is_term": "ground thing", "kind_of": "ground term", "signs_of": "thing", "names_of": "term"},
+    "grounds": {"Ground": "kinds works"},
+    "termtexts": {"show_term": "term", "show_ground": "ground", "read_term": "ground text", "read_ground": "text"},
+    "data": {"is_data": "ground thing", "size_of": "data", "data_to": "ground kind most"},
+    "reckoning": {"worth": "ground term most"},
+    "sayings": {"is_saying": "ground thing", "is_body": "ground kind thing", "opened": "body term",
+                "shut": "saying x kind", "put_in": "saying x kind term", "free_in": "sayings"},
+    "sayingtexts": {"show": "saying", "read_saying": "ground text"},
+    "truths": {"true_at": "ground saying filling", "true_in": "ground saying world filling"},
+}
+GROUND_METHODS = {"kinds": "", "works": "", "takes": "f", "gives": "f", "makers": "kind", "is_kind": "thing",
+                  "is_maker": "thing", "is_work": "thing", "is_open": "thing", "falls_at": "f", "rights": "f"}
+
+
+def functions(tree):
+    return [node for node in ast.walk(tree) if isinstance(node, (ast.FunctionDef, ast.Lambda))]
+
+
+def bound_names(tree):
+    """All names that a file gives to parameters, variables, functions and classes."""
+    names = [node.name for node in ast.walk(tree) if isinstance(node, (ast.FunctionDef, ast.ClassDef))]
+    names += [node.arg for node in ast.walk(tree) if isinstance(node, ast.arg)]
+    names += [node.id for node in ast.walk(tree) if isinstance(node, ast.Name) and isinstance(node.ctx, ast.Store)]
+    return names
+
+
+class TestLanguage(unittest.TestCase):
+    def test_files(self):
+        self.assertIn(FOLDER / "__init__.py", FILES)
+        for path in FILES:
+            self.assertRegex(path.name, r"\A[a-z_]+\.py\Z")
+            text = path.read_text(encoding="utf-8")
+            rows = text.split("\n")
+            self.assertLessEqual(len(rows), 399, path)
+            self.assertLessEqual(max(map(len, rows)), 120, path)
+            self.assertTrue(all(sign == "\n" or " " <= sign <= "~" for sign in text), path)
+
+    def test_functions(self):
+        for stem, tree in TREES.items():
+            for node in functions(tree):
+                self.assertLessEqual(node.end_lineno - node.lineno + 1, 40, (stem, node.lineno))
+                if isinstance(node, ast.FunctionDef):
+                    self.assertEqual(node.decorator_list, [], (stem, node.lineno))
+
+    def test_imports(self):
+        needs = {}
+        for stem, tree in TREES.items():
+            needs[stem] = []
+            for node in [node for node in tree.body if isinstance(node, ast.ImportFrom)]:
+                package, dot, other = node.module.partition(".")
+                self.assertEqual((package, dot, node.level), ("goalsmith", ".", 0))
+                needs[stem].append(other)
+                defined = [one for top in TREES[other].body for one in self.defined(top)]
+                for alias in node.names:
+                    self.assertIn(alias.name, defined, (stem, other))
+                    self.assertIsNone(alias.asname)
+        while needs:
+            free = [stem for stem in needs if not any(other in needs for other in needs[stem])]
+            self.assertNotEqual(free, [], "files import one another in a circle")
+            for stem in free:
+                del needs[stem]
+
+    def defined(self, node):
+        if isinstance(node, (ast.FunctionDef, ast.ClassDef)):
+            return [node.name]
+        return [target.id for target in node.targets] if isinstance(node, ast.Assign) else []
+
+    def test_module_level(self):
+        allowed = (ast.FunctionDef, ast.ClassDef, ast.ImportFrom, ast.Assign, ast.Expr)
+        for stem, tree in TREES.items():
+            for node in tree.body:
+                self.assertIsInstance(node, allowed, stem)
+                if isinstance(node, ast.Expr):
+                    self.assertIsInstance(node.value, ast.Constant, stem)
+
+    def test_statements_and_signs(self):
+        for stem, tree in TREES.items():
+            for node in ast.walk(tree):
+                self.assertNotIsInstance(node, STATEMENTS, stem)
+                self.assertNotIsInstance(node, (ast.Div, ast.Yield, ast.YieldFrom), stem)
+                if isinstance(node, ast.Constant):
+                    self.assertNotIsInstance(node.value, float, stem)
+                    self.assertNotIn("%", str(node.value), stem)
+
+    def test_names(self):
+        for stem, tree in TREES.items():
+            imported = [alias.name for node in tree.body if isinstance(node, ast.ImportFrom) for alias in node.names]
+            classes = [node.name for node in tree.body if isinstance(node, ast.ClassDef)]
+            tops = [name for node in tree.body for name in self.defined(node)]
+            self.assertEqual(len(tops + imported), len(set(tops + imported)), stem)
+            for name in bound_names(tree):
+                self.assertNotIn(name, BARRED, stem)
+                self.assertNotIn(name, vars(builtins), stem)
+                self.assertNotIn(name, imported, stem)
+                self.assertRegex(name, r"\A(_?[A-Za-z][A-Za-z0-9_]*|_|__init__)\Z")
+            for name in classes:
+                self.assertRegex(name, r"\A[A-Z]")
+                self.assertEqual(bound_names(tree).count(name), 1, (stem, name))
+
+    def test_builtins(self):
+        for stem, tree in TREES.items():
+            for node in ast.walk(tree):
+                if isinstance(node, ast.Name) and node.id in vars(builtins):
+                    self.assertIn(node.id, BUILTINS, (stem, node.lineno))
+
+    def test_methods(self):
+        own = [node.name for tree in TREES.values() for node in ast.walk(tree) if isinstance(node, ast.FunctionDef)]
+        for stem, tree in TREES.items():
+            for node in ast.walk(tree):
+                if isinstance(node, ast.Call) and isinstance(node.func, ast.Attribute):
+                    self.assertIn(node.func.attr, METHODS + own, (stem, node.lineno))
+
+    def test_attributes(self):
+        stored, methods, read = [], [], []
+        for tree in TREES.values():
+            for node in ast.walk(tree):
+                if isinstance(node, ast.Attribute):
+                    (stored if isinstance(node.ctx, ast.Store) else read).append(node.attr)
+                if isinstance(node, ast.ClassDef):
+                    methods += [part.name for part in node.body if isinstance(part, ast.FunctionDef)]
+        self.assertEqual(sorted(set(stored) & set(methods)), [])
+        self.assertEqual(sorted(set(read) - set(stored) - set(methods) - set(METHODS)), [])
+
+
+class TestInterface(unittest.TestCase):
+    def arguments(self, what):
+        return [word for word in inspect.signature(what).parameters if word != "self"]
+
+    def test_names_and_arguments(self):
+        for stem, told in INTERFACE.items():
+            module = import_module(f"goalsmith.{stem}")
+            tops = [name for node in TREES[stem].body for name in TestLanguage.defined(self, node)]
+            for word, arguments in told.items():
+                self.assertIn(word, tops)
+                if arguments is not None:
+                    self.assertEqual(self.arguments(getattr(module, word)), arguments.split(), word)
+
+    def test_methods_of_grounds(self):
+        ground = import_module("goalsmith.grounds").Ground
+        for word, arguments in GROUND_METHODS.items():
+            self.assertIn(word, vars(ground))
+            self.assertEqual(self.arguments(vars(ground)[word]), arguments.split(), word)
+
+    def test_default(self):
+        worth = import_module("goalsmith.reckoning").worth
+        self.assertEqual(inspect.signature(worth).parameters["most"].default, 1000)
+
+
+if __name__ == "__main__":
+    unittest.main()
