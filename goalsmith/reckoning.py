@@ -1,8 +1,8 @@
 """What terms are worth."""
 
 from goalsmith.errors import NoData, TooFar
-from goalsmith.rights import right_for
-from goalsmith.terms import MOST_DEEP, MOST_SIGNS, depth_of, is_term, signs_of
+from goalsmith.rights import MADE, TAKEN, right_of
+from goalsmith.terms import MOST_DEEP, MOST_SIGNS, is_term
 
 
 def worth(ground, term, most=1000):
@@ -16,104 +16,96 @@ def worth(ground, term, most=1000):
 def _is_reckoned(ground, term):
     if term[0] != "made" or ground.is_open(term[1]):
         return False
-    return all(_is_reckoned(ground, part) for part in term[2])
+    for part in term[2]:
+        if not _is_reckoned(ground, part):
+            return False
+    return True
 
 
 class Worth:
-    """A data with its signs and its depth, so that these are not counted anew at each maker."""
+    """A data with the worths of its parts, its signs and its depth, so that these are not looked for anew."""
 
-    def __init__(self, data, signs, deep):
-        self.data = data
+    def __init__(self, maker, parts):
+        self.maker = maker
+        self.parts = parts
+        signs = 1
+        deep = 0
+        for part in parts:
+            signs += part.signs
+            deep = max(deep, part.deep)
         self.signs = signs
-        self.deep = deep
-
-
-class Frame:
-    """A term that is being reckoned, with the worths of the names in it."""
-
-    def __init__(self, term, worths):
-        self._steps = []
-        _note_steps(term, self._steps)
-        self._at = 0
-        self._worths = worths
-
-    def is_done(self):
-        """Whether all steps are done."""
-        return self._at == len(self._steps)
-
-    def next_step(self):
-        """The next step; it counts as done."""
-        self._at += 1
-        return self._steps[self._at - 1]
-
-    def worth_of(self, x):
-        """The worth that was put in for a name."""
-        return self._worths[x]
-
-
-def _note_steps(term, steps):
-    """Each name, maker and work of a term, behind its parts."""
-    if term[0] == "made":
-        for part in term[2]:
-            _note_steps(part, steps)
-    steps.append((term[0], term[1]))
+        self.deep = deep + 1
+        if self.signs > MOST_SIGNS or self.deep > MOST_DEEP:
+            raise TooFar("a worth would be great")
+        self.data = ("made", maker, tuple([part.data for part in parts]))
 
 
 class Reckoner:
-    """Terms being reckoned, the one that waits for none last, and the worths found, from the left.
+    """Reckons terms by steps: for each name, maker and work in a term one, behind those of its parts; then an end.
 
-    The terms stand in a list, for works may go down deeper than Python's own calls may.
+    A step is a tuple of a word, what it names (a name by its place among what is put in) and how many parts it takes.
     """
 
     def __init__(self, ground, most):
         self._ground = ground
         self._left = most
-        self._frames = []
-        self._found = []
+        self._steps_of_rights = {}
 
     def worth_of(self, term):
         """The worth of a term of makers and works that are not open."""
-        self._frames.append(Frame(term, {}))
-        while self._frames:
-            frame = self._frames[-1]
-            if frame.is_done():
-                self._frames.pop()
+        steps = self._steps_of(term, {})
+        at = 0
+        puts = []
+        found = []
+        # What waits stands in a list, for works may go down deeper than Python's own calls may.
+        waiting = []
+        while steps:
+            word, x, many = steps[at]
+            at += 1
+            if word == "name":
+                found.append(puts[x])
+            elif word == "end":
+                steps, at, puts = waiting.pop() if waiting else ((), 0, [])
             else:
-                self._do(frame)
-        return self._found.pop().data
-
-    def _do(self, frame):
-        word, x = frame.next_step()
-        if word == "name":
-            self._found.append(frame.worth_of(x))
-            return
-        parts = self._parts_found(len(self._ground.takes(x)))
-        if self._ground.is_maker(x):
-            self._found.append(_made(x, parts))
-        else:
-            self._put_in(x, parts)
-
-    def _parts_found(self, many):
-        at = len(self._found) - many
-        parts = self._found[at:]
-        del self._found[at:]
-        return parts
+                first = len(found) - many
+                parts = found[first:]
+                del found[first:]
+                if word == "maker":
+                    found.append(Worth(x, parts))
+                else:
+                    waiting.append((steps, at, puts))
+                    steps, puts = self._put_in(x, parts)
+                    at = 0
+        return found[0].data
 
     def _put_in(self, f, parts):
+        """The steps of the right for these parts, with what is put in for its names."""
         if self._left <= 0:
             raise TooFar("more would be put in than may be")
         self._left -= 1
-        right, puts = right_for(self._ground, f, [part.data for part in parts])
-        self._frames.append(Frame(right, {x: _measured(puts[x]) for x in puts}))
+        at = self._ground.falls_at(f)
+        maker = None if at is None else parts[at].maker
+        if (f, maker) not in self._steps_of_rights:
+            self._steps_of_rights[f, maker] = self._steps_of_right(f, maker)
+        inner = [] if at is None else parts[at].parts
+        return self._steps_of_rights[f, maker], parts + inner
 
+    def _steps_of_right(self, f, maker):
+        # What the maker takes stands behind what the work takes.
+        row = TAKEN[:len(self._ground.takes(f))] + MADE
+        return self._steps_of(right_of(self._ground, f, maker), {x: place for place, x in enumerate(row)})
 
-def _made(f, parts):
-    signs = 1 + sum([part.signs for part in parts])
-    deep = 1 + max([part.deep for part in parts], default=0)
-    if signs > MOST_SIGNS or deep > MOST_DEEP:
-        raise TooFar("a worth would be great")
-    return Worth(("made", f, tuple([part.data for part in parts])), signs, deep)
+    def _steps_of(self, term, places):
+        steps = []
+        self._note_steps(term, places, steps)
+        steps.append(("end", None, 0))
+        return steps
 
-
-def _measured(data):
-    return Worth(data, signs_of(data), depth_of(data))
+    def _note_steps(self, term, places, steps):
+        if term[0] == "name":
+            steps.append(("name", places[term[1]], 0))
+            return
+        for part in term[2]:
+            self._note_steps(part, places, steps)
+        word = "maker" if self._ground.is_maker(term[1]) else "work"
+        steps.append((word, term[1], len(term[2])))

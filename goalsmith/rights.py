@@ -42,17 +42,30 @@ def _falls(ground, f, parts):
     return at is not None and parts[at][0] == "name" and parts[at][1] in MADE
 
 
-def right_for(ground, f, parts):
-    """A work's right for these parts, with a dict from its names to what is put for them.
+def right_of(ground, f, maker):
+    """A work's right for a maker at its place; None stands for it of a plain one."""
+    if maker is None:
+        return ground.rights(f)[0]
+    makers = ground.makers(ground.takes(f)[ground.falls_at(f)])
+    return ground.rights(f)[makers.index(maker)]
 
-    In a falling work a maker must stand at the place.
+
+def filled_right(ground, term):
+    """The right of a term, with its parts put in.
+
+    It is made by a plain work, or by a falling one with a term made by a maker at its place.
     """
+    _, f, parts = term
     puts = dict(zip(TAKEN, parts))
     at = ground.falls_at(f)
-    if at is None:
-        return ground.rights(f)[0], puts
-    _, maker, inner = parts[at]
-    del puts[TAKEN[at]]
-    puts.update(dict(zip(MADE, inner)))
-    place = ground.makers(ground.takes(f)[at]).index(maker)
-    return ground.rights(f)[place], puts
+    maker = None
+    if at is not None:
+        _, maker, inner = parts[at]
+        puts.update(dict(zip(MADE, inner)))
+    return _put_for_names(right_of(ground, f, maker), puts)
+
+
+def _put_for_names(term, puts):
+    if term[0] == "name":
+        return puts[term[1]]
+    return ("made", term[1], tuple([_put_for_names(part, puts) for part in term[2]]))

@@ -4,6 +4,8 @@ from goalsmith.names import is_name, is_whole
 
 MOST_SIGNS = 200
 MOST_DEEP = 40
+MOST_SIGNS_HELD = 1000
+MOST_DEEP_HELD = 60
 
 
 def is_term(ground, thing):
@@ -71,6 +73,11 @@ def depth_of(thing):
 def is_great(thing):
     """Whether a term or a saying is great."""
     return signs_of(thing) > MOST_SIGNS or depth_of(thing) > MOST_DEEP
+
+
+def is_too_great(thing):
+    """Whether a term or a saying is too great."""
+    return signs_of(thing) > MOST_SIGNS_HELD or depth_of(thing) > MOST_DEEP_HELD
 
 
 def names_of(term):

@@ -25,7 +25,7 @@ BARRED = (
     " copyright credits delattr dir eval exec exit gc getattr globals hasattr help id importlib license locals"
     " methodcaller os quit setattr type vars"
 ).split()
-STATEMENTS = (ast.Global, ast.AsyncFunctionDef, ast.AsyncFor, ast.AsyncWith, ast.Await, ast.Try, ast.With, ast.Import)
+STATEMENTS = (ast.Global, ast.AsyncFunctionDef, ast.AsyncFor, ast.AsyncWith, ast.Await, ast.With, ast.Import)
 
 INTERFACE = {
     "errors": {"SmithError": None, "NoGround": None, "NoText": None, "NoData": None, "TooMany": None, "TooFar": None,
@@ -40,9 +40,30 @@ INTERFACE = {
                 "shut": "saying x kind", "put_in": "saying x kind term", "free_in": "sayings"},
     "sayingtexts": {"show": "saying", "read_saying": "ground text"},
     "truths": {"true_at": "ground saying filling", "true_in": "ground saying world filling"},
+    "helds": {"Held": None},
+    "kernel": {"Kernel": "ground"},
+    "papers": {"laid_in": "paper parts", "leans": "paper", "cut": "paper"},
+    "reader": {"read_paper": "ground lent paper"},
+    "goals": {"goal_of": "ground given saying", "new_names": "goal things many"},
 }
-GROUND_METHODS = {"kinds": "", "works": "", "takes": "f", "gives": "f", "makers": "kind", "is_kind": "thing",
-                  "is_maker": "thing", "is_work": "thing", "is_open": "thing", "falls_at": "f", "rights": "f"}
+CLASSES = {
+    ("grounds", "Ground"): {
+        "kinds": "", "works": "", "takes": "f", "gives": "f", "makers": "kind", "is_kind": "thing",
+        "is_maker": "thing", "is_work": "thing", "is_open": "thing", "falls_at": "f", "rights": "f",
+    },
+    ("helds", "Held"): {"lent": "", "given": "", "saying": "", "paper": ""},
+    ("kernel", "Kernel"): {
+        "ground": "", "by_lent": "goal", "by_down": "helds kind body names", "by_paper": "paper lent",
+        "laid": "held helds",
+    },
+}
+# The methods of a kernel by rules, with how many things each takes.
+RULES = {
+    "by_take": 1, "by_more": 2, "by_both": 2, "by_left": 1, "by_right": 1, "by_first": 2, "by_second": 2,
+    "by_either": 3, "by_so": 2, "by_use": 2, "by_clash": 2, "by_deny": 2, "by_any": 2, "by_back": 2, "by_each": 3,
+    "by_at": 2, "by_there": 4, "by_name": 3, "by_alike": 1, "by_put": 4, "by_equation": 1, "by_unlike": 2,
+    "by_part": 2,
+}
 
 
 def functions(tree):
@@ -115,6 +136,23 @@ class TestLanguage(unittest.TestCase):
                     self.assertNotIsInstance(node.value, float, stem)
                     self.assertNotIn("%", str(node.value), stem)
 
+    def test_errors_that_are_caught(self):
+        own = self.defined_in("errors")
+        for stem, tree in TREES.items():
+            for node in ast.walk(tree):
+                if isinstance(node, ast.Try):
+                    self.assertEqual(node.finalbody, [], (stem, node.lineno))
+                if isinstance(node, ast.ExceptHandler):
+                    caught = node.type.elts if isinstance(node.type, ast.Tuple) else [node.type]
+                    for one in caught:
+                        self.assertIn(one.id, own, (stem, node.lineno))
+                if isinstance(node, ast.Raise) and node.exc is not None:
+                    self.assertIsInstance(node.exc, ast.Call, (stem, node.lineno))
+                    self.assertIn(node.exc.func.id, own, (stem, node.lineno))
+
+    def defined_in(self, stem):
+        return [name for node in TREES[stem].body for name in self.defined(node)]
+
     def test_names(self):
         for stem, tree in TREES.items():
             imported = [alias.name for node in tree.body if isinstance(node, ast.ImportFrom) for alias in node.names]
@@ -168,11 +206,17 @@ class TestInterface(unittest.TestCase):
                 if arguments is not None:
                     self.assertEqual(self.arguments(getattr(module, word)), arguments.split(), word)
 
-    def test_methods_of_grounds(self):
-        ground = import_module("goalsmith.grounds").Ground
-        for word, arguments in GROUND_METHODS.items():
-            self.assertIn(word, vars(ground))
-            self.assertEqual(self.arguments(vars(ground)[word]), arguments.split(), word)
+    def test_methods(self):
+        for (stem, word), methods in CLASSES.items():
+            told = vars(getattr(import_module(f"goalsmith.{stem}"), word))
+            for method, arguments in methods.items():
+                self.assertIn(method, told)
+                self.assertEqual(self.arguments(told[method]), arguments.split(), method)
+
+    def test_rules_of_kernels(self):
+        told = vars(import_module("goalsmith.kernel").Kernel)
+        for method, many in RULES.items():
+            self.assertEqual(len(self.arguments(told[method])), many, method)
 
     def test_default(self):
         worth = import_module("goalsmith.reckoning").worth

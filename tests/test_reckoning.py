@@ -193,6 +193,44 @@ class TestGreatWorths(unittest.TestCase):
         refused(self, TooFar, worth, GROUND, made("twice", num(20)), 10 ** 9)
 
 
+class TestThoseThatTakeLongest(unittest.TestCase):
+    """Two inputs that were told slowly; what they are worth is as ever."""
+
+    ROWS = read_ground(
+        "kind num: next(num); zero\n"
+        "kind row: put(num, row); nil\n"
+        "work plus(num, num) num at 1: next(plus(xa:num, ya:num)); xa:num\n"
+        "work times(num, num) num at 0: plus(xb:num, times(ya:num, xb:num)); zero\n"
+    )
+    TREES = read_ground(
+        "kind tree: one(tree); two(tree, tree); leaf\n"
+        "work grow(tree) tree = one(xa:tree)\n"
+        "work pair(tree) tree = two(xa:tree, xa:tree)\n"
+        "work first(tree, tree) tree = xa:tree\n"
+        "work hide(tree) tree = first(leaf, two(xa:tree, xa:tree))\n"
+    )
+
+    def test_times(self):
+        refused(self, TooFar, worth, self.ROWS, made("times", num(14), num(4)))
+        self.assertEqual(worth(self.ROWS, made("times", num(9), num(4))), num(36))
+        refused(self, TooFar, worth, self.ROWS, made("times", num(10), num(4)))
+
+    def hidden(self, many):
+        term = made("leaf")
+        for _ in range(many):
+            term = made("hide", term)
+        return term
+
+    def test_hide(self):
+        term = self.hidden(12)
+        for _ in range(16):
+            term = made("first", self.hidden(30), term)
+        self.assertEqual(signs_of(term), 16 * 32 + 13)
+        self.assertEqual(worth(self.TREES, term), made("leaf"))
+        self.assertEqual(worth(self.TREES, term, 1000), made("leaf"))
+        refused(self, TooFar, worth, self.TREES, term, 999)
+
+
 class TestNoData(unittest.TestCase):
     def bar(self, term, ground=GROUND):
         for more in ((), (0,), (1,), (1000,)):
