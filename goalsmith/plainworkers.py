@@ -2,7 +2,6 @@
 
 from goalsmith.making import is_by_maker
 from goalsmith.sayings import is_body, opened
-from goalsmith.terms import kind_of
 from goalsmith.ways import demand
 from goalsmith.workers import Worker
 
@@ -84,7 +83,8 @@ class Show(Worker):
     def turned(self, way):
         """The body opened by the term."""
         kind, body = way.within("some")
-        number = way.left(way.body_opened(kind, body, self._term), [])
+        # What is no term of the kind makes no goal, or else no step.
+        number = way.left(opened(body, self._term), [])
         return way.step("there", (number,), kind, body, self._term)
 
 
@@ -206,7 +206,7 @@ class At(Worker):
         saying = way.given_at(self._number)
         demand(saying[0] == "all", "this given saying is not of all")
         _, kind, body = saying
-        held = way.body_opened(kind, body, self._term)
+        held = opened(body, self._term)
         number = way.left(way.saying(), [held])
         return way.leaned(number, held, way.step("at", (way.taken(saying),), self._term))
 
@@ -225,7 +225,6 @@ class Put(Worker):
         demand(saying[0] == "same", "this given saying is not of a same")
         _, one, other = saying
         demand(is_body(way.ground(), self._kind, self._body), "a kind and a body of it are due")
-        demand(kind_of(way.ground(), one) == self._kind, "the given same is of another kind")
         demand(opened(self._body, other) == way.saying(), "the goal's saying is not the body opened by the second side")
         number = way.left(opened(self._body, one), [])
         return way.step("put", (way.taken(saying), number), self._kind, self._body)

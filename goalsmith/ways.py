@@ -3,9 +3,7 @@
 from goalsmith.errors import Fails
 from goalsmith.goals import goal_of, new_names
 from goalsmith.names import is_whole
-from goalsmith.sayings import opened
 from goalsmith.steps import held_by
-from goalsmith.terms import is_term, kind_of
 from goalsmith.writers import Writer
 
 
@@ -47,11 +45,6 @@ class Way:
         demand(is_whole(number) and 0 <= number < len(self._given), "there is no given saying with this number")
         return self._given[number]
 
-    def body_opened(self, kind, body, term):
-        """A body of the kind opened by a term, which may be anything."""
-        demand(is_term(self._ground, term) and kind_of(self._ground, term) == kind, "a term of the kind is due")
-        return opened(body, term)
-
     def names_for(self, things, many):
         """New names for the goal and for what a worker was made of."""
         return new_names((self._given, self._saying), things, many)
@@ -88,4 +81,4 @@ class Way:
         for saying in self._given:
             if saying not in self._held[last][0]:
                 last = self.step("more", (last,), saying)
-        return list(self._goals), self._steps.row()[:last + 1]
+        return list(self._goals), self._steps.row()

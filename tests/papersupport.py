@@ -1,5 +1,7 @@
 """What the tests of papers, kernels and workers share."""
 
+import unittest
+
 from goalsmith.errors import NoRule
 from goalsmith.grounds import Ground
 from goalsmith.kernel import Kernel
@@ -110,29 +112,31 @@ def lent_steps(premises):
     return [("lent", (), (at,)) for at in range(len(premises))]
 
 
-def read_by(rule, premises, more, ground=GROUND):
+def read_by(rule, premises, more):
     """What the reader tells of a step by a rule that uses these premises, lent."""
     step = (rule, tuple(range(len(premises))), more)
-    return read_paper(ground, list(premises), lent_steps(premises) + [step])
+    return read_paper(GROUND, list(premises), lent_steps(premises) + [step])
 
 
-def kernel_by(rule, premises, more, ground=GROUND):
+def kernel_by(rule, premises, more):
     """What a kernel makes by a rule of these premises, lent."""
-    kernel = Kernel(ground)
+    kernel = Kernel(GROUND)
     helds = [kernel.by_lent(premise) for premise in premises]
     act = getattr(kernel, f"by_{rule}")
     return act(helds, *more) if rule == "down" else act(*helds, *more)
 
 
-def holds(test, rule, premises, more, due, ground=GROUND):
-    """The step is right, by the reader and by the kernel, and holds just what is due."""
-    test.assertEqual(read_by(rule, premises, more, ground), ("held",) + due, (rule, premises, more))
-    held = kernel_by(rule, premises, more, ground)
-    test.assertEqual((held.given(), held.saying()), due)
-    test.assertEqual(read_paper(ground, held.lent(), held.paper()), ("held",) + due)
+class RuleTest(unittest.TestCase):
+    """Tests of steps, each by the reader and by the kernel."""
 
+    def holds(self, rule, premises, more, *due):
+        """The step is right, and holds just what is due."""
+        self.assertEqual(read_by(rule, premises, more), ("held",) + due, (rule, premises, more))
+        held = kernel_by(rule, premises, more)
+        self.assertEqual((held.given(), held.saying()), due)
+        self.assertEqual(read_paper(GROUND, held.lent(), held.paper()), ("held",) + due)
 
-def breaks(test, rule, premises, more, ground=GROUND):
-    """The step is wrong, by the reader and by the kernel."""
-    test.assertEqual(read_by(rule, premises, more, ground), ("wrong", len(premises)), (rule, premises, more))
-    refused(test, NoRule, kernel_by, rule, premises, more, ground)
+    def breaks(self, rule, premises, *more):
+        """The step is wrong."""
+        self.assertEqual(read_by(rule, premises, more), ("wrong", len(premises)), (rule, premises, more))
+        refused(self, NoRule, kernel_by, rule, premises, more)

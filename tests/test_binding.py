@@ -12,10 +12,9 @@ from tests.papersupport import (
     P,
     Q,
     R,
+    RuleTest,
     bound,
-    breaks,
     given,
-    holds,
     same,
 )
 from tests.support import ZERO, listed, made, name, num
@@ -23,14 +22,6 @@ from tests.support import ZERO, listed, made, name, num
 X = bound(0)
 AL = name("a", "list")
 ADD = same(made("add", A, B), made("add", B, A))
-
-
-class RuleTest(unittest.TestCase):
-    def holds(self, rule, premises, more, *due):
-        holds(self, rule, premises, more, due)
-
-    def breaks(self, rule, premises, *more):
-        breaks(self, rule, premises, more)
 
 
 class TestEach(RuleTest):
@@ -87,6 +78,12 @@ class TestAt(RuleTest):
         self.holds("at", [((), every)], (num(2),), (), due)
         self.holds("at", [((), ("all", "num", ("some", "list", same(bound(1), A))))], (A,), (), ("some", "list", same(A, A)))
 
+    def test_what_is_bound_elsewhere_is_no_term(self):
+        every = ("all", "num", ("all", "num", same(bound(1), X)))
+        for k in range(3):
+            self.breaks("at", [((), every)], bound(k))
+            self.breaks("at", [((), every)], made("next", bound(k)))
+
     def test_meant_nowhere(self):
         self.holds("at", [((P,), ("all", "num", Q))], (num(2),), (P,), Q)
         deep = num(55)
@@ -119,6 +116,11 @@ class TestThere(RuleTest):
                    ("some", "num", ("all", "num", same(X, bound(1)))))
         self.breaks("there", [((), saying)], "num", ("all", "num", same(X, X)), num(1))
         self.breaks("there", [((), saying)], "num", ("all", "num", same(bound(1), X)), num(1))
+
+    def test_what_is_bound_elsewhere_is_no_term(self):
+        body = ("all", "num", same(bound(1), X))
+        for k in range(3):
+            self.breaks("there", [((), ("all", "num", same(X, X)))], "num", body, bound(k))
 
     def test_meant_nowhere(self):
         self.holds("there", [((), P)], ("num", P, B), (), ("some", "num", P))

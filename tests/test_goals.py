@@ -65,7 +65,7 @@ class TestIsGoal(unittest.TestCase):
             self.assertTrue(is_goal(GROUND, goal))
 
     def test_of_anything(self):
-        for thing in THINGS + NO_SAYINGS + [Alike(), P, [(), P], ([], P), ((), P, P), ((),), ((P, P), P), (numbered(21), P),
+        for thing in THINGS + NO_SAYINGS + [Alike(), P, [(), P], ([], P), ((), P, P), ((),), ((P, P), P), (numbered(21), P), (None, P), (0, P), ("", P),
                                             (given(P, Q)[::-1], P), (given(*numbered(21)), P), ((), nots(40)), ((nots(40),), P)]:
             self.assertFalse(is_goal(GROUND, thing))
         for thing in NO_SAYINGS:

@@ -1,28 +1,18 @@
 import unittest
 
-from tests.papersupport import A, B, NO, NO_SAYINGS, P, Q, R, S, breaks, given, holds, nots, same
+from tests.papersupport import A, B, NO, NO_SAYINGS, P, Q, R, RuleTest, S, given, nots, same
 from tests.support import ZERO, name, num
 
 ALL = ("all", "num", same(("bound", 0), A))
 
 
-class RuleTest(unittest.TestCase):
-    def holds(self, rule, premises, more, *due):
-        holds(self, rule, premises, more, due)
-
-    def breaks(self, rule, premises, *more):
-        breaks(self, rule, premises, more)
-
+class JoiningTest(RuleTest):
     def breaks_with_no_saying(self, rule, *premises):
         for thing in NO_SAYINGS:
             self.breaks(rule, list(premises), thing)
 
 
-class TestGiven(RuleTest):
-    def test_lent(self):
-        for goal in (((), P), ((P,), P), (given(P, Q, NO), ALL)):
-            self.holds("take", [], (P,), (P,), P)
-
+class TestGiven(JoiningTest):
     def test_take(self):
         for saying in (NO, P, ALL, ("and", P, ("some", "thing", NO)), same(name("a", "list"), name("b", "list"))):
             self.holds("take", [], (saying,), (saying,), saying)
@@ -45,7 +35,7 @@ class TestGiven(RuleTest):
         self.breaks_with_no_saying("more", ((P,), Q))
 
 
-class TestAnd(RuleTest):
+class TestAnd(JoiningTest):
     def test_both(self):
         self.holds("both", [((), P), ((), Q)], (), (), ("and", P, Q))
         self.holds("both", [((), Q), ((), P)], (), (), ("and", Q, P))
@@ -66,7 +56,7 @@ class TestAnd(RuleTest):
             self.breaks("right", [((), saying)])
 
 
-class TestOr(RuleTest):
+class TestOr(JoiningTest):
     def test_first_and_second(self):
         for held in ((), given(P, NO)):
             self.holds("first", [(held, P)], (Q,), held, ("or", P, Q))
@@ -101,7 +91,7 @@ class TestOr(RuleTest):
         self.breaks("either", [one, ((), ("or", P, Q)), other])
 
 
-class TestSo(RuleTest):
+class TestSo(JoiningTest):
     def test_so(self):
         self.holds("so", [((P,), Q)], (P,), (), ("so", P, Q))
         self.holds("so", [((), Q)], (P,), (), ("so", P, Q))
@@ -122,7 +112,7 @@ class TestSo(RuleTest):
         self.breaks("use", [((), P), ((), ("so", P, Q))])
 
 
-class TestNo(RuleTest):
+class TestNo(JoiningTest):
     def test_clash(self):
         self.holds("clash", [((), P), ((), ("not", P))], (), (), NO)
         self.holds("clash", [(given(P, Q), ("not", P)), (given(Q, R), nots(2, P))], (), given(P, Q, R), NO)
@@ -155,7 +145,7 @@ class TestNo(RuleTest):
                 self.breaks(rule, [((P,), saying)], P)
 
 
-class TestLetters(RuleTest):
+class TestLetters(JoiningTest):
     def test_alike_but_for_a_kind(self):
         """The same letters with other kinds are other sayings."""
         one, other = same(name("a"), name("a")), same(name("a", "list"), name("a", "list"))

@@ -15,10 +15,9 @@ from tests.papersupport import (
     P,
     Q,
     R,
+    RuleTest,
     bound,
-    breaks,
     given,
-    holds,
     same,
 )
 from tests.support import ZERO, listed, made, name, num
@@ -30,14 +29,6 @@ DOT = made("dot")
 
 def bush(x):
     return name(x, "bush")
-
-
-class RuleTest(unittest.TestCase):
-    def holds(self, rule, premises, more, *due):
-        holds(self, rule, premises, more, due)
-
-    def breaks(self, rule, premises, *more):
-        breaks(self, rule, premises, more)
 
 
 class TestEquation(RuleTest):
@@ -77,6 +68,17 @@ class TestEquation(RuleTest):
             self.breaks("equation", [], term)
         self.breaks("equation", [], made("love", name("a", "thing"), name("b", "thing")))
         self.breaks("equation", [], made("grow", A, DOT))
+
+    def test_names_called_like_works_and_makers(self):
+        for x in ("one", "twice", "add", "zero", "next"):
+            self.breaks("equation", [], name(x))
+            self.breaks("equation", [], made("add", name(x), ZERO))
+            self.breaks("unlike", [((), same(name(x), num(1)))], P)
+            self.breaks("unlike", [((), same(num(1), name(x)))], P)
+            self.breaks("unlike", [((), same(name("next"), name(x)))], P)
+            self.breaks("part", [((), same(name(x), name(x)))], 0)
+            self.breaks("part", [((), same(name(x), num(1)))], 0)
+            self.breaks("part", [((), same(num(1), name(x)))], 0)
 
     def test_no_maker_at_the_place(self):
         self.breaks("equation", [], made("add", A, ZERO))

@@ -79,6 +79,17 @@ class TestFitting(MatchingTest):
         self.fits((), made("len", AL), made("len", AL))
         self.fits((), made("twice", made("add", A, num(2))), made("twice", made("add", A, num(2))))
 
+    def test_names_called_like_makers_and_works(self):
+        for f in ("zero", "one"):
+            self.fits((), name(f), name(f))
+            self.fits_not((), name(f), made(f))
+            self.fits_not((), made(f), name(f))
+        left = made("first", name("one"), bound(0))
+        self.fits(("num",), left, made("first", name("one"), made("one")), made("one"))
+        self.fits_not(("num",), left, made("first", made("one"), made("one")))
+        self.fits_not(("num",), made("first", made("one"), bound(0)), made("first", name("one"), ZERO))
+        self.fits_not(("num",), made("next", bound(0)), name("next"))
+
     def test_makers_and_works(self):
         self.fits((), num(3), num(3))
         self.fits_not((), num(3), num(2), num(4), A, made("next", made("next", A)))

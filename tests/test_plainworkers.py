@@ -1,7 +1,10 @@
 import inspect
+import random
 import unittest
 
 from goalsmith import plainworkers
+from goalsmith.errors import Fails
+from goalsmith.goals import is_goal
 from goalsmith.grounds import Ground
 from goalsmith.plainworkers import (
     Absurd,
@@ -19,6 +22,9 @@ from goalsmith.plainworkers import (
     Show,
     Suppose,
 )
+from goalsmith.reader import read_paper
+from goalsmith.sayings import shut
+from goalsmith.terms import kind_of
 from goalsmith.workers import Worker
 from tests import support
 from tests.papersupport import (
@@ -217,6 +223,11 @@ class TestShow(WorkerTest):
         for thing in NO_TERMS + [support.Alike(), AL, made("nil"), made("home")]:
             self.fails(Show(thing), goal(SOME))
             self.fails(Show(thing), goal(("some", "num", P)))
+
+    def test_what_is_bound_elsewhere_is_no_term(self):
+        for k in range(3):
+            self.fails(Show(bound(k)), goal(("some", "num", ("all", "num", same(bound(1), X)))))
+            self.fails(At(0, bound(k)), goal(R, ("all", "num", ("all", "num", same(bound(1), X)))))
 
     def test_great(self):
         some = ("some", "tree", same(X, made("leaf")))
@@ -526,6 +537,51 @@ class TestPut(WorkerTest):
         at = sorted(TWENTY).index(P)
         self.works(Put(at, "num", self.BODY), goal(same(B, ZERO), *TWENTY), goal(same(B, A), *TWENTY))
         fails_of_no_goals(self, Put(0, "num", self.BODY))
+
+
+class TestByChance(WorkerTest):
+    """Goals and workers taken by chance, from a fixed seed: each way reads to just the goal."""
+
+    TERMS = [A, B, ZERO, num(1), made("next", A), made("one"), AL, made("nil"), listed(A), listed(ZERO, B)]
+
+    def saying(self, chance, deep, around=()):
+        word = chance.choice(["same", "same", "no", "not", "and", "or", "so", "all", "some"] if deep else ["same", "same", "no"])
+        if word == "same":
+            kind = chance.choice(["num", "list"])
+            terms = [term for term in self.TERMS if kind_of(GROUND, term) == kind]
+            terms += [bound(at) for at, one in enumerate(around) if one == kind] * 3
+            return same(chance.choice(terms), chance.choice(terms))
+        if word in ("all", "some"):
+            kind = chance.choice(["num", "list"])
+            return (word, kind, self.saying(chance, deep - 1, (kind,) + around))
+        return (word,) + tuple(self.saying(chance, deep - 1, around) for _ in range({"no": 0, "not": 1}.get(word, 2)))
+
+    def worker(self, chance, one):
+        at, term = chance.randrange(4), chance.choice(self.TERMS)
+        saying = chance.choice(one[0] + (self.saying(chance, 1),))
+        kind = chance.choice(["num", "list"])
+        body = shut(one[1], chance.choice("ab"), kind)
+        return chance.choice([Given(), Alike(), Both(), First(), Second(), Suppose(), Fix(), Show(term), Cut(saying), Contrary(),
+                              Absurd(), Apart(at), Apart(at), Apart(at), At(at, term), At(at, term), Put(at, kind, body)])
+
+    def test_ways(self):
+        chance = random.Random(7)
+        done = {}
+        for _ in range(4000):
+            one = goal(self.saying(chance, 2), *[self.saying(chance, 2) for _ in range(chance.randrange(5))])
+            for _ in range(3):
+                worker = self.worker(chance, one)
+                try:
+                    told, way = worker.work(GROUND, one)
+                except Fails:
+                    break
+                self.assertEqual(read_paper(GROUND, told, way), ("held",) + one)
+                self.assertTrue(all(is_goal(GROUND, left) for left in told))
+                done[worker.__class__.__name__] = done.get(worker.__class__.__name__, 0) + 1
+                if not told:
+                    break
+                one = chance.choice(told)
+        self.assertEqual(sorted(done), sorted(TestWorker.WORDS))
 
 
 class TestKeptNothing(WorkerTest):
