@@ -100,6 +100,12 @@ class Ground:
         """The kind that a maker or a work gives."""
         return self._gives[f]
 
+    def takes_and_gives(self, thing):
+        """The kinds, as a tuple, that a maker or a work takes, and the one that it gives; None of anything else."""
+        if not isinstance(thing, str) or thing not in self._takes:
+            return None
+        return self._takes[thing], self._gives[thing]
+
     def makers(self, kind):
         """The names of a kind's makers; none of an open one."""
         return list(self._makers[kind])

@@ -27,15 +27,16 @@ def kind_within(ground, thing, around):
 
 
 def _kind_made(ground, f, parts, around):
-    if not ground.is_maker(f) and not ground.is_work(f):
+    told = ground.takes_and_gives(f)
+    if told is None:
         return None
-    takes = ground.takes(f)
+    takes, gives = told
     if not isinstance(parts, tuple) or len(parts) != len(takes):
         return None
     for part, kind in zip(parts, takes):
         if kind_within(ground, part, around) != kind:
             return None
-    return ground.gives(f)
+    return gives
 
 
 def kind_of(ground, term):
