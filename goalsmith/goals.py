@@ -4,7 +4,7 @@ from goalsmith.errors import NoGoal
 from goalsmith.givens import each_once
 from goalsmith.names import is_name, text_at
 from goalsmith.sayings import is_saying
-from goalsmith.terms import is_great, note_names
+from goalsmith.terms import MOST_SIGNS, has_more_signs, is_great, note_names
 
 MOST_GIVEN = 20
 
@@ -14,7 +14,7 @@ def goal_of(ground, given, saying):
     if not isinstance(given, list):
         raise NoGoal("what is given is handed in as a list")
     for one in given + [saying]:
-        if not is_saying(ground, one) or is_great(one):
+        if has_more_signs(one, MOST_SIGNS) or not is_saying(ground, one) or is_great(one):
             raise NoGoal("a goal has sayings of the ground that are not great")
     told = each_once(given)
     if len(told) > MOST_GIVEN:

@@ -81,6 +81,22 @@ def is_too_great(thing):
     return signs_of(thing) > MOST_SIGNS_HELD or depth_of(thing) > MOST_DEEP_HELD
 
 
+def has_more_signs(thing, most):
+    """Whether a thing, whatever it is, has more tuples than a term or saying of so many signs may have.
+
+    One tuple may stand in many places: walking through them all could take for ever, so the first ones are counted.
+    """
+    left = [thing]
+    # With each maker or work stands a tuple of its parts.
+    room = 2 * most
+    while left and room >= 0:
+        one = left.pop()
+        if isinstance(one, tuple):
+            room -= 1
+            left.extend(one)
+    return room < 0
+
+
 def names_of(term):
     """The names in a term, with their kinds, sorted, each once."""
     found = {}

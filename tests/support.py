@@ -45,6 +45,14 @@ def wide(signs):
     return made("fork", wide(half), wide(signs - 1 - half))
 
 
+def doubled(many):
+    """A data of more than two to the power of so many signs, each tuple of which stands in two places."""
+    data = made("leaf")
+    for _ in range(many):
+        data = made("fork", data, data)
+    return data
+
+
 KINDS = [
     ("thing", []),
     ("spot", []),

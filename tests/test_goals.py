@@ -6,7 +6,7 @@ from goalsmith.errors import NoGoal
 from goalsmith.goals import goal_of, is_goal, new_names
 from goalsmith.grounds import Ground
 from tests.papersupport import A, B, GROUND, NO, NO_SAYINGS, OTHER, P, Q, R, bound, given, nots, numbered, same
-from tests.support import THINGS, WORDS, Alike, is_name_text, made, name, num, refused, wide
+from tests.support import THINGS, WORDS, Alike, doubled, is_name_text, made, name, num, refused, wide
 
 
 class TestGoalOf(unittest.TestCase):
@@ -33,6 +33,11 @@ class TestGoalOf(unittest.TestCase):
             refused(self, NoGoal, goal_of, GROUND, [], great)
             refused(self, NoGoal, goal_of, GROUND, [great], P)
             refused(self, NoGoal, goal_of, GROUND, [P, great, Q], P)
+        for many in (7, 8, 50):
+            refused(self, NoGoal, goal_of, GROUND, [], same(doubled(many), made("leaf")))
+            refused(self, NoGoal, goal_of, GROUND, [P, same(doubled(many), made("leaf"))], P)
+        large = same(doubled(6), made("leaf"))
+        self.assertEqual(goal_of(GROUND, [large], large), ((large,), large))
         large = same(wide(99), wide(100))
         self.assertEqual(goal_of(GROUND, [nots(39), large], large), (given(nots(39), large), large))
 

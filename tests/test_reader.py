@@ -22,7 +22,7 @@ from tests.papersupport import (
     numbered,
     same,
 )
-from tests.support import THINGS, ZERO, Alike, made, name, num, refused, wide
+from tests.support import THINGS, ZERO, Alike, doubled, made, name, num, refused, wide
 
 LENT = [((), P), ((P,), Q), (given(Q, R), NO)]
 
@@ -306,6 +306,26 @@ class TestBounds(ReaderTest):
         term = made("twice", num(56))
         self.held([("equation", (), (term,))], [], (), same(term, made("add", num(56), num(56))))
         self.wrong([("equation", (), (made("twice", num(58)),))], [], 0)
+
+    def test_far_too_great(self):
+        """What is far too great is told at once, although its tuples, each counted once, are few."""
+        for many in (9, 12, 50):
+            term = doubled(many)
+            saying = same(term, term)
+            for rule in ("take", "first", "second", "so", "any", "unlike"):
+                lent, steps, (_, uses, _) = right_paper(rule)
+                self.wrong(steps + [(rule, uses, (saying,))], lent, len(steps))
+            for step in (("deny", (0,), (saying,)), ("back", (0,), (saying,))):
+                self.wrong([("take", (), (NO,)), step], [], 1)
+            for rule in ("alike", "equation"):
+                self.wrong([(rule, (), (term,))], [], 0)
+            body = same(bound(0), term)
+            for step in (("there", (0,), ("tree", body, made("leaf"))), ("put", (0, 0), ("tree", body))):
+                self.wrong([("alike", (), (made("leaf"),)), step], [], 1)
+            lent, steps, (rule, uses, (kind, _, names)) = right_paper("down")
+            self.wrong(steps + [(rule, uses, (kind, saying, names))], lent, len(steps))
+            self.wrong([("lent", (), (0,))], [((), saying)], 0)
+            self.wrong([("lent", (), (0,))], [((saying,), P)], 0)
 
     def test_sixty_given(self):
         sayings = numbered(61)

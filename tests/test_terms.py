@@ -1,7 +1,7 @@
 import unittest
 
-from goalsmith.terms import is_term, kind_of, names_of, signs_of
-from tests.support import THINGS, XA, ZERO, Alike, deep_tuple, ground, listed, made, name, num, wide
+from goalsmith.terms import has_more_signs, is_term, is_too_great, kind_of, names_of, signs_of
+from tests.support import THINGS, XA, ZERO, Alike, deep_tuple, doubled, ground, listed, made, name, num, wide
 
 GROUND = ground()
 
@@ -93,6 +93,23 @@ class TestAsked(unittest.TestCase):
         for word in ("all", "some"):
             self.assertEqual(signs_of((word, "num", same)), 5)
         self.assertEqual(signs_of(("all", "num", ("some", "num", ("and", same, same)))), 11)
+
+    def test_too_great(self):
+        for many, great in ((999, False), (1000, False), (1001, True), (1200, True)):
+            self.assertIs(is_too_great(wide(many)), great)
+        self.assertFalse(is_too_great(num(59)))
+        self.assertTrue(is_too_great(num(60)))
+
+    def test_more_signs(self):
+        """A term of so many signs has twice as many tuples; no saying has more."""
+        for many in (1, 2, 3, 200, 1000):
+            self.assertFalse(has_more_signs(wide(many), many))
+            self.assertTrue(has_more_signs(wide(many + 1), many))
+            self.assertFalse(has_more_signs(("same", wide(many), wide(many)), 2 * many + 1))
+            self.assertTrue(has_more_signs(("same", wide(many), wide(many)), 2 * many - 1))
+        self.assertTrue(has_more_signs(doubled(100), 1000))
+        for thing in THINGS:
+            self.assertFalse(has_more_signs(thing, 200))
 
     def test_names_of(self):
         self.assertEqual(names_of(ZERO), [])
