@@ -12,11 +12,12 @@ class Held:
         self.told = told
         self._given = given
         self._saying = saying
+        self._lent_and_steps = None
 
     def lent(self):
         """The goals that were lent to it, each once, by whose numbers its paper names them."""
-        goals, _ = _written(self)
-        return goals
+        goals, _ = self._once_written()
+        return list(goals)
 
     def given(self):
         """What is given."""
@@ -28,8 +29,14 @@ class Held:
 
     def paper(self):
         """Its paper, in which no two steps are the same."""
-        _, steps = _written(self)
-        return steps
+        _, steps = self._once_written()
+        return list(steps)
+
+    def _once_written(self):
+        # What is held stays as it is, and its paper may be asked for again and again.
+        if self._lent_and_steps is None:
+            self._lent_and_steps = _written(self)
+        return self._lent_and_steps
 
 
 def _written(held):

@@ -62,10 +62,11 @@ def filled_right(ground, term):
     if at is not None:
         _, maker, inner = parts[at]
         puts.update(dict(zip(MADE, inner)))
-    return _put_for_names(right_of(ground, f, maker), puts)
+    return put_for_names(right_of(ground, f, maker), puts)
 
 
-def _put_for_names(term, puts):
+def put_for_names(term, puts):
+    """A term without bound ones, with other terms put in for all its names, whatever their kinds."""
     if term[0] == "name":
         return puts[term[1]]
-    return ("made", term[1], tuple([_put_for_names(part, puts) for part in term[2]]))
+    return ("made", term[1], tuple([put_for_names(part, puts) for part in term[2]]))

@@ -5,8 +5,6 @@ from goalsmith.errors import NoText
 from goalsmith.grounds import Ground
 from goalsmith.terms import MOST_DEEP, is_great, is_term
 
-FIGURES = "0123456789"
-
 
 def show_term(term):
     """A term's text."""
@@ -119,7 +117,7 @@ def _work_at(cursor):
     if cursor.passes(" = "):
         rights.append(_right_at(cursor))
     elif cursor.passes(" at "):
-        at = _figure_at(cursor)
+        at = cursor.figure()
         cursor.need(": ")
         rights.append(_right_at(cursor))
         while cursor.passes("; "):
@@ -133,11 +131,3 @@ def _right_at(cursor):
     if is_great(right):
         raise NoText("a right is too long for a term")
     return right
-
-
-def _figure_at(cursor):
-    figure = cursor.sign_ahead()
-    if figure == "" or figure not in FIGURES:
-        raise NoText("a figure is due here")
-    cursor.need(figure)
-    return int(figure)

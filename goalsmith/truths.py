@@ -17,10 +17,11 @@ def _is_true_of_data(ground, saying):
         one = worth(ground, saying[1])
         return one == worth(ground, saying[2])
     # Each part is reckoned, even where another one alone would do.
-    return _joined(saying[0], [_is_true_of_data(ground, part) for part in saying[1:]])
+    return joined_truth(saying[0], [_is_true_of_data(ground, part) for part in saying[1:]])
 
 
-def _joined(word, truths):
+def joined_truth(word, truths):
+    """Whether what no, not, and, or, so make of parts with these truths is true."""
     if word == "not":
         return not truths[0]
     if word == "and":
@@ -47,7 +48,7 @@ def _is_true_in(saying, world, filling, around):
         return all(_is_true_in(saying[2], world, filling, (one,) + around) for one in range(things[saying[1]]))
     if saying[0] == "some":
         return any(_is_true_in(saying[2], world, filling, (one,) + around) for one in range(things[saying[1]]))
-    return _joined(saying[0], [_is_true_in(part, world, filling, around) for part in saying[1:]])
+    return joined_truth(saying[0], [_is_true_in(part, world, filling, around) for part in saying[1:]])
 
 
 def _thing_of(term, tables, filling, around):

@@ -1,9 +1,12 @@
 """Ways: the papers by which goals that are left lead back to a goal."""
 
 from goalsmith.errors import Fails
+from goalsmith.givens import need, parts_of
 from goalsmith.goals import goal_of, new_names
 from goalsmith.names import is_whole
+from goalsmith.papers import cut
 from goalsmith.steps import held_by
+from goalsmith.terms import kind_of
 from goalsmith.writers import Writer
 
 
@@ -66,6 +69,10 @@ class Way:
             self._held.append(held)
         return number
 
+    def held_at(self, number):
+        """What is given at the step with this number, and what it holds."""
+        return self._held[number]
+
     def taken(self, saying):
         """Write that a saying holds, given itself; the step's number."""
         return self.step("take", (), saying)
@@ -75,10 +82,43 @@ class Way:
         supposed = self.step("so", (number,), saying)
         return self.step("use", (supposed, other))
 
+    def turned_round(self, number):
+        """Write that t = s, of a step that holds s = t."""
+        _, one, _ = self._held[number][1]
+        alike = self.step("alike", (), one)
+        return self.step("put", (number, alike), kind_of(self._ground, one), ("same", ("bound", 0), one))
+
+    def embedded(self, held):
+        """Write the paper of a held thing, to which nothing is lent; the number of its last step."""
+        numbers = []
+        for rule, uses, told in held.paper():
+            numbers.append(self.step(rule, [numbers[use] for use in uses], *told))
+        # It was held of its own ground, which may be another one.
+        need(self._held[numbers[-1]] == (held.given(), held.saying()), "this is held of another ground")
+        return numbers[-1]
+
+    def opened_by(self, number, terms):
+        """Write what a step holds with its alls opened by these terms, the outermost first; the last step's number.
+
+        All but the last are opened by new names at first, so that no term comes to stand deep within alls.
+        """
+        if not terms:
+            return number
+        last = number
+        names = []
+        for x in new_names(self._held[number], terms, len(terms) - 1):
+            kind, _ = parts_of(self._held[last][1], "all")
+            names.append((x, kind))
+            last = self.step("at", (last,), ("name", x, kind))
+        last = self.step("at", (last,), terms[-1])
+        for (x, kind), term in zip(names, terms):
+            last = self.step("at", (self.step("each", (last,), x, kind),), term)
+        return last
+
     def ended(self, number):
         """The goals left, and the way, whose step with this number holds the goal's saying."""
         last = number
         for saying in self._given:
             if saying not in self._held[last][0]:
                 last = self.step("more", (last,), saying)
-        return list(self._goals), self._steps.row()
+        return list(self._goals), cut(self._steps.row()[:last + 1])

@@ -45,6 +45,36 @@ INTERFACE = {
     "papers": {"laid_in": "paper parts", "leans": "paper", "cut": "paper"},
     "reader": {"read_paper": "ground lent paper"},
     "goals": {"goal_of": "ground given saying", "new_names": "goal things many"},
+    "workers": {"Worker": None},
+    "plainworkers": {"Given": "", "Alike": "", "Both": "", "First": "", "Second": "", "Suppose": "", "Fix": "", "Show": "term",
+                     "Cut": "saying", "Contrary": "", "Absurd": "", "Apart": "number", "At": "number term",
+                     "Put": "number kind body"},
+    "order": {"is_greater": "ground one other"},
+    "matching": {"fitting": "ground rule term", "filled": "term parts"},
+    "rules": {"work_rules": "ground f", "held_rule": "ground held turned"},
+    "resting": {"rewrites": "ground rules term", "rewritten": "ground rules term rewrite", "to_rest": "ground rules term most",
+                "at_rest": "kernel sources term most", "Rewrite": "sources most"},
+    "meets": {"meets": "ground rules", "come_together": "ground rules most"},
+    "cases": {"ByCases": "saying", "ByMakers": "term"},
+    "goingdown": {"Down": "x kind others"},
+    "joined": {"Then": "one other", "Else": "one other", "Try": "one", "Each": "one workers", "Again": "one most",
+               "Closed": "one"},
+    "rows": {"row_against": "goal", "ByRows": ""},
+    "finder": {"Finder": "workers tries"},
+    "works": {"read_work": "ground text held", "names_named": "text"},
+    "books": {"read_book": "text", "looked_through": "ground entries", "Book": None},
+}
+WORKERS = [
+    (stem, word) for stem in ("plainworkers", "resting", "cases", "goingdown", "joined", "rows", "finder") for word in INTERFACE[stem]
+    if word[0].isupper()
+]
+DEFAULTS = {
+    ("reckoning", "worth"): {"most": 1000},
+    ("rules", "held_rule"): {"turned": False},
+    ("resting", "to_rest"): {"most": 100},
+    ("resting", "at_rest"): {"most": 100},
+    ("resting", "Rewrite"): {"most": 100},
+    ("meets", "come_together"): {"most": 100},
 }
 CLASSES = {
     ("grounds", "Ground"): {
@@ -55,6 +85,12 @@ CLASSES = {
     ("kernel", "Kernel"): {
         "ground": "", "by_lent": "goal", "by_down": "helds kind body names", "by_paper": "paper lent",
         "laid": "held helds",
+    },
+    ("workers", "Worker"): {"work": "ground goal"},
+    ("finder", "Finder"): {"tried": ""},
+    ("books", "Book"): {
+        "ground": "", "names": "", "saying": "name", "work": "name", "held": "name", "leans": "name", "shown": "",
+        "entries": "",
     },
 }
 # The methods of a kernel by rules, with how many things each takes.
@@ -218,9 +254,22 @@ class TestInterface(unittest.TestCase):
         for method, many in RULES.items():
             self.assertEqual(len(self.arguments(told[method])), many, method)
 
-    def test_default(self):
-        worth = import_module("goalsmith.reckoning").worth
-        self.assertEqual(inspect.signature(worth).parameters["most"].default, 1000)
+    def test_defaults(self):
+        for stem, told in INTERFACE.items():
+            for word in told:
+                what = getattr(import_module(f"goalsmith.{stem}"), word)
+                if told[word]:
+                    parameters = inspect.signature(what).parameters
+                    found = {name: one.default for name, one in parameters.items() if one.default is not one.empty}
+                    self.assertEqual(found, DEFAULTS.get((stem, word), {}), word)
+
+    def test_workers(self):
+        """Each worker stands under Worker, none under another one."""
+        found = [getattr(import_module(f"goalsmith.{stem}"), word) for stem, word in WORKERS]
+        self.assertEqual(len(found), 14 + 1 + 2 + 1 + 6 + 1 + 1)
+        for one in found:
+            self.assertTrue(issubclass(one, import_module("goalsmith.workers").Worker))
+            self.assertEqual([other for other in found if issubclass(one, other)], [one])
 
 
 if __name__ == "__main__":
