@@ -1,7 +1,7 @@
 """The finder: it looks for a row of workers that leaves no goals."""
 
 from goalsmith.errors import Fails
-from goalsmith.takings import laid_out
+from goalsmith.takings import Row, laid_out
 from goalsmith.workers import Worker
 
 
@@ -45,16 +45,17 @@ class Search:
         self._takings = []
         # For each taking the row as it stood, and the place of the first worker that was untried.
         self._back = []
-        self._shortest = (self._row, [])
 
     def tries(self):
         """How many tries were made."""
         return self._tries
 
     def ended(self):
-        """The goals of the first of the shortest rows, and the way back."""
-        row, takings = self._shortest
-        return [self._goals[number] for number in row], laid_out(takings + [None for _ in row])
+        """The goals of the first of the shortest rows that stood, and the way back."""
+        if not self._row:
+            return [], laid_out(self._takings)
+        # The first row is of one goal: none but a row without goals is shorter.
+        return Row(self._goals[0]).ended()
 
     def run(self):
         """Take goals until none is left, no try, or nothing to go back to."""
@@ -101,8 +102,6 @@ class Search:
         self._goals.extend(goals)
         self._came_of.extend([self._row[0] for _ in goals])
         self._row = numbers + self._row[1:]
-        if len(self._row) < len(self._shortest[0]):
-            self._shortest = (self._row, list(self._takings))
 
     def _gone_back(self):
         """Go back to the last taking at which a worker is untried; its place, or None where there is no such taking."""
