@@ -133,7 +133,7 @@ class Chance:
         """Goals of which no goals were left, with the ways."""
         found = []
         for _ in range(many):
-            one = self.goal()
+            one = self.goal(self.chance.random() < 0.5)
             goals, paper = [one], [("lent", (), (0,))]
             for _ in range(3):
                 ways = []
@@ -168,7 +168,7 @@ class TestWorkers(unittest.TestCase):
 
     def test_of_open_kinds(self):
         ended, true = self.looked_at(Chance(89, LOVE, "thing", THINGS), 500, is_true_everywhere)
-        self.assertGreater(ended, 60)
+        self.assertGreater(ended, 50)
         self.assertGreater(true, 40)
 
     def test_of_numbers(self):
@@ -176,8 +176,8 @@ class TestWorkers(unittest.TestCase):
             return is_true_of_numbers(test, given, saying) if is_without_binding([given, saying]) else 0
 
         ended, true = self.looked_at(Chance(97, NUMBERS, "num", NUMS), 500, is_true)
-        self.assertGreater(ended, 60)
-        self.assertGreater(true, 20)
+        self.assertGreater(ended, 50)
+        self.assertGreater(true, 12)
 
     def test_goals_are_no_less_than_what_they_lead_to(self):
         """Where all goals left are true at a filling, the goal is: of those without all and some."""
