@@ -57,26 +57,26 @@ class Book:
         return self._text
 
     def entries(self):
-        """For each saying a tuple of its name, itself, and a paper that leans on the earlier ones."""
+        """For each saying a tuple of its name, itself, and a paper that leans on those that its work names."""
+        numbers = {name: number for number, name in enumerate(self._told)}
         entries = []
-        goals = []
         for name in self._told:
-            saying = self.saying(name)
-            entries.append((name, saying, _leaning(self._ground, self.held(name).paper(), goals)))
-            goals.append(((), saying))
+            goals = [(numbers[lean], ((), self.saying(lean))) for lean in self.leans(name)]
+            entries.append((name, self.saying(name), _leaning(self._ground, self.held(name).paper(), goals)))
         return entries
 
 
 def _leaning(ground, paper, goals):
-    """A paper with these goals, numbered, lent in the place of the steps that hold them."""
+    """A paper with these goals, each with its number, lent in the place of the steps that hold them."""
     helds = []
     numbers = []
     writer = Writer()
     for rule, uses, told in paper:
         held = held_by(ground, rule, [helds[use] for use in uses], told)
         helds.append(held)
-        if held in goals:
-            numbers.append(writer.number_of(("lent", (), (goals.index(held),))))
+        lent = [number for number, goal in goals if goal == held]
+        if lent:
+            numbers.append(writer.number_of(("lent", (), (lent[0],))))
         else:
             numbers.append(writer.number_of((rule, tuple([numbers[use] for use in uses]), told)))
     return cut(writer.row()[:numbers[-1] + 1])

@@ -1,7 +1,10 @@
-"""Joined workers: made of other workers, and put to a goal as one."""
+"""Joined workers: made of other workers, and put to a goal as one.
+
+Each puts its parts to goals straight, by few calls: fifty of them may stand one within another.
+"""
 
 from goalsmith.errors import Fails
-from goalsmith.takings import Row
+from goalsmith.takings import Row, taken_as
 from goalsmith.ways import demand
 from goalsmith.workers import Worker
 
@@ -12,6 +15,7 @@ class Then(Worker):
     def __init__(self, one, other):
         self._one = one
         self._other = other
+        self.has_again = _have_again([one, other])
 
     def led(self, ground, goal):
         """What the other leaves of each goal."""
@@ -23,7 +27,10 @@ class Then(Worker):
             last = last._one
         row = Row(goal)
         for worker in [last] + workers[::-1]:
-            row.put_to(ground, [worker for _ in row.goals_left()])
+            parts = []
+            for one in row.goals_left():
+                parts.append(taken_as(worker.work(ground, one)))
+            row.take_on(parts)
         return row.ended()
 
 
@@ -33,6 +40,7 @@ class Else(Worker):
     def __init__(self, one, other):
         self._one = one
         self._other = other
+        self.has_again = _have_again([one, other])
 
     def led(self, ground, goal):
         """What the first one leaves that doesn't fail."""
@@ -56,6 +64,7 @@ class Try(Worker):
 
     def __init__(self, one):
         self._one = one
+        self.has_again = _have_again([one])
 
     def led(self, ground, goal):
         """What the one leaves, or the goal."""
@@ -71,13 +80,18 @@ class Each(Worker):
     def __init__(self, one, workers):
         self._one = one
         self._workers = list(workers)
+        self.has_again = _have_again([one] + self._workers)
 
     def led(self, ground, goal):
         """What its own worker leaves of each goal."""
         row = Row(goal)
-        row.put_to(ground, [self._one])
-        demand(len(row.goals_left()) == len(self._workers), "there is a worker for just each goal left")
-        row.put_to(ground, self._workers)
+        row.take_on([taken_as(self._one.work(ground, goal))])
+        goals = row.goals_left()
+        demand(len(goals) == len(self._workers), "there is a worker for just each goal left")
+        parts = []
+        for worker, one in zip(self._workers, goals):
+            parts.append(taken_as(worker.work(ground, one)))
+        row.take_on(parts)
         return row.ended()
 
 
@@ -87,6 +101,7 @@ class Again(Worker):
     def __init__(self, one, most):
         self._one = one
         self._most = most
+        self.has_again = True
 
     def led(self, ground, goal):
         """What is left where the one fails, or has been put often enough."""
@@ -94,7 +109,10 @@ class Again(Worker):
         ahead = 0
         for again in self._from_the_innermost():
             times = Times(ground, again._one, again._most - ahead)
-            row.take_on([times.taken(one) for one in row.goals_left()])
+            parts = []
+            for one in row.goals_left():
+                parts.append(times.taken(one))
+            row.take_on(parts)
             if times.is_still():
                 break
             # The one within has been put once.
@@ -119,6 +137,8 @@ class Times:
         self._worker = worker
         self._left = most
         self._still = False
+        # Where one within another would do nothing again and again, it would take for ever.
+        self._skips = _have_again([worker])
 
     def taken(self, goal):
         """What comes of a goal: takings, and the goals that these left."""
@@ -127,31 +147,27 @@ class Times:
         waiting = [goal]
         while waiting:
             first = waiting.pop(0)
-            told = self._worked(first)
+            try:
+                told = self._worker.work(self._ground, first) if self._left > 0 else None
+            except Fails:
+                told = None
             if told is None:
                 takings.append(None)
                 left.append(first)
+            elif told[0] == [first]:
+                self._note_still()
+                waiting = [first] + waiting
             else:
+                self._left -= 1
                 goals, way = told
                 takings.append((way, len(goals)))
                 waiting = goals + waiting
         return takings, left
 
-    def _worked(self, goal):
-        """What the worker tells, or None where it fails, or is not put any more."""
-        if self._left <= 0:
-            return None
-        try:
-            told = self._worker.work(self._ground, goal)
-        except Fails:
-            return None
-        self._left -= 1
-        if told[0] == [goal]:
-            # It would leave this goal each time from now on.
-            self._left = 0
-            self._still = True
-            return None
-        return told
+    def _note_still(self):
+        """The worker left just the goal itself: so it will each time from now on, till none is left."""
+        self._still = True
+        self._left = 0 if self._skips else self._left - 1
 
     def is_still(self):
         """Whether nothing would come any more if the worker were put again, however often."""
@@ -163,9 +179,18 @@ class Closed(Worker):
 
     def __init__(self, one):
         self._one = one
+        self.has_again = _have_again([one])
 
     def led(self, ground, goal):
         """No goals."""
         goals, way = self._one.work(ground, goal)
         demand(not goals, "goals are left")
         return goals, way
+
+
+def _have_again(workers):
+    """Whether some of these workers are joined of one that goes on again and again."""
+    for worker in workers:
+        if isinstance(worker, (Then, Else, Try, Each, Again, Closed)) and worker.has_again:
+            return True
+    return False

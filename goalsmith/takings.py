@@ -64,16 +64,12 @@ class Row:
         self._goals = goals
         self._takings = takings
 
-    def put_to(self, ground, workers):
-        """Put each worker to the goal in its place."""
-        self.take_on([taken_by(ground, worker, goal) for worker, goal in zip(workers, self._goals)])
-
     def ended(self):
         """The goals that are left, and the way back from these."""
         return list(self._goals), laid_out(self._takings)
 
 
-def taken_by(ground, worker, goal):
-    """What comes of a goal to which a worker is put: takings and the goals that these left."""
-    goals, way = worker.work(ground, goal)
+def taken_as(told):
+    """What a worker told of a goal to which it was put, as takings, and the goals that these left."""
+    goals, way = told
     return [(way, len(goals))] + [None for _ in goals], goals

@@ -25,6 +25,8 @@ class Way:
         self._goals = []
         self._steps = Writer()
         self._held = []
+        # A held thing may be needed again and again, and its paper be long.
+        self._embedded = {}
 
     def ground(self):
         """The ground of the goal."""
@@ -90,11 +92,14 @@ class Way:
 
     def embedded(self, held):
         """Write the paper of a held thing, to which nothing is lent; the number of its last step."""
+        if held in self._embedded:
+            return self._embedded[held]
         numbers = []
         for rule, uses, told in held.paper():
             numbers.append(self.step(rule, [numbers[use] for use in uses], *told))
         # It was held of its own ground, which may be another one.
         need(self._held[numbers[-1]] == (held.given(), held.saying()), "this is held of another ground")
+        self._embedded[held] = numbers[-1]
         return numbers[-1]
 
     def opened_by(self, number, terms):

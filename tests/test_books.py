@@ -66,6 +66,8 @@ class BooksTest(unittest.TestCase):
             self.assertEqual(read_paper(ground, [], held.paper()), ("held", (), saying))
         self.right(ground, book.entries())
         self.assertEqual([(one, saying) for one, saying, _ in book.entries()], [(one, book.saying(one)) for one in book.names()])
+        for one, _, paper in book.entries():
+            self.assertLessEqual({book.names()[k] for k in leans(paper)}, set(book.leans(one)))
         return book
 
     def right(self, ground, entries):
@@ -122,12 +124,21 @@ class TestBook(BooksTest):
 
     def test_a_saying_with_two_names(self):
         book = self.reads("held a: (no so no)\nby suppose ; given\nheld b: (no so no)\nby use @a ; given\nheld c: (no so no)\nby rows\n")
-        self.assertEqual([len(paper) for _, _, paper in book.entries()][1:], [1, 1])
+        entries = book.entries()
+        self.assertEqual([leans(paper) for _, _, paper in entries], [[], [0], []])
+        self.assertEqual(len(entries[1][2]), 1)
 
     def test_papers_lean_on_earlier_entries(self):
         """What an entry's work names stands in its paper as a lent goal."""
         entries = read_book(BOOK).entries()
         self.assertEqual([leans(paper) for _, _, paper in entries], [[], [], [0, 1], [0], [], [3]])
+
+    def test_papers_lean_on_what_their_works_name_alone(self):
+        """What an earlier entry says may come to be held without it."""
+        rows = "held a: zero = zero\nby alike\nheld b: zero = zero\nby use @a ; given\n"
+        for work, due in (("both ; alike", []), ("both ; ( use @a ; given ) | alike", [0]), ("both ; use @b ; given", [1]), ("both ; use @b ; use @a ; given", [0])):
+            entries = self.reads(GROUND_ROWS + rows + f"held c: (zero = zero and zero = zero)\nby {work}\n").entries()
+            self.assertEqual(leans(entries[2][2]), due)
 
     def test_told_lists(self):
         book = read_book(BOOK)

@@ -232,6 +232,12 @@ class TestAgain(JoinedTest):
         """It is put to the first goal again and again, till it was put often enough: the others stay."""
         for most in (1, 2, 7, 200):
             self.works(Again(Try(Given()), most), goal(P), goal(P))
+            probe = Probe(Try(Given()))
+            Again(probe, most).work(GROUND, goal(P))
+            self.assertEqual(probe.seen, [goal(P)] * most)
+            probe = Probe(Given())
+            Again(Try(probe), most).work(GROUND, goal(P))
+            self.assertEqual(probe.seen, [goal(P)] * most)
             both = Again(Else(Both(), Try(Given())), most)
             left = [goal(P), goal(Q), goal(("and", R, S))] if most > 1 else [goal(("and", P, Q)), goal(("and", R, S))]
             self.works(both, goal(("and", ("and", P, Q), ("and", R, S))), *left)

@@ -1,4 +1,6 @@
+import inspect
 import itertools
+import sys
 import time
 import unittest
 
@@ -365,6 +367,20 @@ class TestJoined(WorksTest):
         read = read_work(GROUND, text, {})
         one = goal(("and", P, P), P)
         reads(self, GROUND, one, *read.work(GROUND, one))
+
+    def test_deep_ones_by_few_calls(self):
+        """Fifty workers within one another are at work without calls too deep for Python."""
+        text = "rest add"
+        for _ in range(50):
+            text = f"( alike | {text} * ; given )"
+        read = read_work(GROUND, text, {})
+        one = goal(same(add(num(20), A), ZERO))
+        was = sys.getrecursionlimit()
+        sys.setrecursionlimit(600 + len(inspect.stack()))
+        try:
+            self.assertEqual(self.told(read, one), "fails")
+        finally:
+            sys.setrecursionlimit(was)
 
     def test_long_texts(self):
         start = time.monotonic()
