@@ -183,6 +183,11 @@ class TestNoRow(BooksTest):
                 self.refuses(text_of(whole + [row]), NoRow, len(whole) + 1)
                 self.refuses(text_of(whole[:4] + [row] + whole[4:]), NoRow, 5)
                 self.refuses(text_of([row] + whole), NoRow, 1)
+                # What is no such row is none with a work behind it, either.
+                if not row.startswith("by"):
+                    self.refuses(text_of(whole + [row, "by given"]), NoRow, len(whole) + 1)
+        for row in ("holds a: zero = zero", "HELD a: zero = zero", "     a: zero = zero", "xxxxxa: zero = zero", "heldxa: zero = zero", "held a:zero = zero"):
+            self.refuses(text_of(whole + [row, "by alike"]), NoRow, len(whole) + 1)
         self.refuses("\n", NoRow, 1)
         self.refuses("\n" + BOOK, NoRow, 1)
         self.refuses(BOOK + "\n", NoRow, len(whole) + 1)
@@ -225,7 +230,7 @@ class TestNoRow(BooksTest):
     def test_no_text(self):
         for thing in THINGS:
             if not isinstance(thing, str):
-                refused(self, NoRow, read_book, thing)
+                self.assertEqual(refused(self, NoRow, read_book, thing).at, 1)
 
 
 class TestBadText(BooksTest):

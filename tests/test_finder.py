@@ -173,6 +173,8 @@ class TestTried(FinderTest):
         self.assertEqual(finder.tried(), 1)
         finder.work(GROUND, goal(Q))
         self.assertEqual(finder.tried(), 2)
+        fails(self, finder, P)
+        self.assertEqual(finder.tried(), 0)
 
     def test_by_joined_workers(self):
         finder = Finder([Given(), Both()], 300)

@@ -251,9 +251,27 @@ class TestAgain(JoinedTest):
                     due = plain(Row(("again", ("again", ("again", Both(), inner), outer), last)), GROUND, goal(saying))
                     self.works(Again(Again(Again(Both(), inner), outer), last), goal(saying), *due)
 
+    def test_joined_ones_that_leave_the_goal_itself(self):
+        """Where nothing comes of a goal, fifty within one another end."""
+        for make in (Try, lambda one: Else(Alike(), one), lambda one: Then(one, Try(Given())), lambda one: Each(one, [Try(Given())]),
+                     lambda one: Then(Try(Given()), one), lambda one: Else(one, Given())):
+            worker = Again(Both(), 50)
+            for _ in range(30):
+                worker = Again(make(worker), 50)
+            self.works(worker, goal(P), goal(P))
+            worker = Again(Try(Both()), 50)
+            for _ in range(30):
+                worker = Again(make(worker), 50)
+            self.works(worker, goal(Q, R), goal(Q, R))
+        worker = Closed(Else(Alike(), Again(Given(), 3)))
+        for _ in range(30):
+            worker = Again(Try(Closed(worker)), 50)
+        self.works(worker, goal(P), goal(P))
+
     def test_many_within_one_another(self):
         start = time.monotonic()
-        for leaf, one, due in ((Alike(), goal(same(A, A)), []), (Given(), goal(P), [goal(P)]), (Both(), goal(("and", P, Q)), [goal(P), goal(Q)])):
+        for leaf, one, due in ((Alike(), goal(same(A, A)), []), (Given(), goal(P), [goal(P)]), (Both(), goal(("and", P, Q)), [goal(P), goal(Q)]),
+                               (Try(Given()), goal(P), [goal(P)])):
             worker = leaf
             for _ in range(2000):
                 worker = Again(worker, 50)

@@ -176,6 +176,31 @@ class TestMeets(MeetsTest):
         rules = [taken_rule(GROUND, add(A, made("next", X)), X, "num"), taken_rule(GROUND, add(X, made("next", name("a", "num"))), X, "num")]
         self.assertEqual({meet[0] for meet in meets(GROUND, rules)}, {add(A, made("next", A))})
 
+        # The same name meets itself, and one that is called like a maker does not meet what this makes.
+        rules = [taken_rule(GROUND, add(A, made("next", X)), X, "num"), taken_rule(GROUND, add(A, made("next", ZERO)), A)]
+        self.assertEqual({meet[0] for meet in meets(GROUND, rules)}, {add(A, num(1))})
+        rules = [taken_rule(GROUND, add(ZERO, made("next", X)), X, "num"), taken_rule(GROUND, add(name("zero"), made("next", ZERO)), ZERO)]
+        self.assertEqual(meets(GROUND, rules), [])
+        rules = [taken_rule(GROUND, add(made("next", X), A), X, "num"), taken_rule(GROUND, add(made("next", name("next")), A), ZERO),
+                 taken_rule(GROUND, add(name("next"), A), ZERO)]
+        self.assertEqual({meet[0] for meet in meets(GROUND, rules)}, {add(made("next", name("next")), A)})
+
+    def test_bound_ones_that_stand_twice_in_both(self):
+        rules = [taken_rule(GROUND, add(X, X), X, "num"), taken_rule(GROUND, made("first", add(X, X), X), ZERO, "num")]
+        told = self.right(GROUND, rules)
+        self.assertEqual([canonical(rules, meet)[0][0] for meet in told], [made("first", add(X, X), X)])
+        rules = [taken_rule(GROUND, add(X, X), X, "num"), taken_rule(GROUND, add(Y, Y), ZERO, "num", "num")]
+        told = self.right(GROUND, rules)
+        self.assertEqual({repr(canonical(rules, meet)[0][0]) for meet in told}, {repr(add(X, X))})
+
+    def test_names_that_stand_in_rights_alone(self):
+        rules = [taken_rule(GROUND, add(add(Z, Y), X), made("next", name(x)), "num", "num", "num") for x in "abcd"]
+        told = self.right(GROUND, rules)
+        self.assertTrue(told)
+        for term, _, _ in told:
+            for x, _ in names_of(term):
+                self.assertNotIn(x, "abcd")
+
     def test_names_that_stand_in_no_rule(self):
         taken = [name(x) for x in "abcdefg"]
         rules = [ASSOC] + [taken_rule(GROUND, made("first", x, X), x, "num") for x in taken]

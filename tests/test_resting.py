@@ -144,6 +144,9 @@ class TestRewritten(unittest.TestCase):
             self.none((place, 3, ()))
         for place in THINGS + [(0, True), (False, 1), (0.0, 1), ("0", 1), [0, 1], (0, (1,)), (None,), Alike(), (Alike(), Alike())]:
             self.none((place, 3, ()))
+        for place in ((0,), (1,), (2,), (0, 0), (2, 1, 0, 0)):
+            refused(self, NoRewrite, rewritten, GROUND, self.RULES, A, (place, 3, ()))
+            refused(self, NoRewrite, rewritten, GROUND, self.RULES, made("next", A), ((0,) + place, 3, ()))
 
     def test_rules(self):
         self.assertEqual(rewritten(GROUND, self.RULES, self.TERM, ((0, 1), 3, ())), made("twice", add(num(1), num(1))))

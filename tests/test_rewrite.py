@@ -124,6 +124,7 @@ class TestMany(WorkerTest):
         self.works(ADD, goal(saying), goal(same(listed(*[num(19)] * 5), listed(*[num(19)] * 2))))
         more = same(listed(*[add(num(19), ZERO)] * 4 + [add(num(20), ZERO)]), made("nil"))
         self.fails(ADD, goal(more))
+        fails(self, Rewrite(ADD), goal(more))
         self.works(ADD, goal(more), goal(same(listed(*[num(19)] * 4 + [num(20)]), made("nil"))), most=101)
 
 
