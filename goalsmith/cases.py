@@ -20,6 +20,10 @@ class ByCases(Worker):
     def __init__(self, saying):
         self._case = saying
 
+    def work(self, ground, goal):
+        """The goals that are left, and the way back from these to the goal."""
+        return super().work(ground, goal)
+
     def turned(self, way):
         """S, A; S, not A."""
         one = way.left(way.saying(), [self._case])
@@ -32,6 +36,10 @@ class ByMakers(Worker):
 
     def __init__(self, term):
         self._term = term
+
+    def work(self, ground, goal):
+        """The goals that are left, and the way back from these to the goal."""
+        return super().work(ground, goal)
 
     def turned(self, way):
         """For each maker S, t = the maker of new names."""

@@ -2,7 +2,7 @@
 
 from goalsmith.errors import Fails
 from goalsmith.takings import Row, laid_out
-from goalsmith.workers import Worker
+from goalsmith.workers import Worker, need_goal
 
 
 class Finder(Worker):
@@ -16,10 +16,7 @@ class Finder(Worker):
     def work(self, ground, goal):
         """The goals of the first of the shortest rows that stood, and the way back from these."""
         self._tries = 0
-        return super().work(ground, goal)
-
-    def led(self, ground, goal):
-        """The same, of what is a goal."""
+        need_goal(ground, goal)
         search = Search(ground, goal, self._workers, self._most)
         search.run()
         self._tries = search.tries()

@@ -15,6 +15,10 @@ class Down(Worker):
         self._kind = kind
         self._others = list(others)
 
+    def work(self, ground, goal):
+        """The goals that are left, and the way back from these to the goal."""
+        return super().work(ground, goal)
+
     def turned(self, way):
         """For each maker S of it, with B of each name of the kind itself given."""
         self._need_names(way)

@@ -6,7 +6,7 @@ Each puts its parts to goals straight, by few calls: fifty of them may stand one
 from goalsmith.errors import Fails
 from goalsmith.takings import Row, taken_as
 from goalsmith.ways import demand
-from goalsmith.workers import Worker
+from goalsmith.workers import Worker, need_goal
 
 
 class Then(Worker):
@@ -17,8 +17,9 @@ class Then(Worker):
         self._other = other
         self.has_again = _have_again([one, other])
 
-    def led(self, ground, goal):
+    def work(self, ground, goal):
         """What the other leaves of each goal."""
+        need_goal(ground, goal)
         # A row joined from the left may be long: each of it is put to the goals in turn, none within another.
         workers = []
         last = self
@@ -42,8 +43,9 @@ class Else(Worker):
         self._other = other
         self.has_again = _have_again([one, other])
 
-    def led(self, ground, goal):
+    def work(self, ground, goal):
         """What the first one leaves that doesn't fail."""
+        need_goal(ground, goal)
         # A row joined from the left may be long, as above.
         workers = []
         last = self
@@ -66,8 +68,9 @@ class Try(Worker):
         self._one = one
         self.has_again = _have_again([one])
 
-    def led(self, ground, goal):
+    def work(self, ground, goal):
         """What the one leaves, or the goal."""
+        need_goal(ground, goal)
         try:
             return self._one.work(ground, goal)
         except Fails:
@@ -82,8 +85,9 @@ class Each(Worker):
         self._workers = list(workers)
         self.has_again = _have_again([one] + self._workers)
 
-    def led(self, ground, goal):
+    def work(self, ground, goal):
         """What its own worker leaves of each goal."""
+        need_goal(ground, goal)
         row = Row(goal)
         row.take_on([taken_as(self._one.work(ground, goal))])
         goals = row.goals_left()
@@ -103,8 +107,9 @@ class Again(Worker):
         self._most = most
         self.has_again = True
 
-    def led(self, ground, goal):
+    def work(self, ground, goal):
         """What is left where the one fails, or has been put often enough."""
+        need_goal(ground, goal)
         row = Row(goal)
         ahead = 0
         for again in self._from_the_innermost():
@@ -181,8 +186,9 @@ class Closed(Worker):
         self._one = one
         self.has_again = _have_again([one])
 
-    def led(self, ground, goal):
+    def work(self, ground, goal):
         """No goals."""
+        need_goal(ground, goal)
         goals, way = self._one.work(ground, goal)
         demand(not goals, "goals are left")
         return goals, way

@@ -9,6 +9,10 @@ from goalsmith.workers import Worker
 class Given(Worker):
     """What is given."""
 
+    def work(self, ground, goal):
+        """The goals that are left, and the way back from these to the goal."""
+        return super().work(ground, goal)
+
     def turned(self, way):
         """No goals."""
         demand(way.saying() in way.given(), "the goal's saying is not given")
@@ -17,6 +21,10 @@ class Given(Worker):
 
 class Alike(Worker):
     """t = t."""
+
+    def work(self, ground, goal):
+        """The goals that are left, and the way back from these to the goal."""
+        return super().work(ground, goal)
 
     def turned(self, way):
         """No goals."""
@@ -28,6 +36,10 @@ class Alike(Worker):
 class Both(Worker):
     """A and B."""
 
+    def work(self, ground, goal):
+        """The goals that are left, and the way back from these to the goal."""
+        return super().work(ground, goal)
+
     def turned(self, way):
         """A; B."""
         one, other = way.within("and")
@@ -36,6 +48,10 @@ class Both(Worker):
 
 class First(Worker):
     """A or B."""
+
+    def work(self, ground, goal):
+        """The goals that are left, and the way back from these to the goal."""
+        return super().work(ground, goal)
 
     def turned(self, way):
         """A."""
@@ -46,6 +62,10 @@ class First(Worker):
 class Second(Worker):
     """A or B."""
 
+    def work(self, ground, goal):
+        """The goals that are left, and the way back from these to the goal."""
+        return super().work(ground, goal)
+
     def turned(self, way):
         """B."""
         one, other = way.within("or")
@@ -54,6 +74,10 @@ class Second(Worker):
 
 class Suppose(Worker):
     """A so B, or not A."""
+
+    def work(self, ground, goal):
+        """The goals that are left, and the way back from these to the goal."""
+        return super().work(ground, goal)
 
     def turned(self, way):
         """B, A; or no, A."""
@@ -67,6 +91,10 @@ class Suppose(Worker):
 class Fix(Worker):
     """All."""
 
+    def work(self, ground, goal):
+        """The goals that are left, and the way back from these to the goal."""
+        return super().work(ground, goal)
+
     def turned(self, way):
         """The body opened by a new name."""
         kind, body = way.within("all")
@@ -79,6 +107,10 @@ class Show(Worker):
 
     def __init__(self, term):
         self._term = term
+
+    def work(self, ground, goal):
+        """The goals that are left, and the way back from these to the goal."""
+        return super().work(ground, goal)
 
     def turned(self, way):
         """The body opened by the term."""
@@ -94,6 +126,10 @@ class Cut(Worker):
     def __init__(self, saying):
         self._between = saying
 
+    def work(self, ground, goal):
+        """The goals that are left, and the way back from these to the goal."""
+        return super().work(ground, goal)
+
     def turned(self, way):
         """A; S, A."""
         number = way.left(self._between, [])
@@ -103,6 +139,10 @@ class Cut(Worker):
 class Contrary(Worker):
     """Any saying, by the contrary."""
 
+    def work(self, ground, goal):
+        """The goals that are left, and the way back from these to the goal."""
+        return super().work(ground, goal)
+
     def turned(self, way):
         """No, not S."""
         return way.step("back", (way.left(("no",), [("not", way.saying())]),), way.saying())
@@ -110,6 +150,10 @@ class Contrary(Worker):
 
 class Absurd(Worker):
     """Any saying, of no."""
+
+    def work(self, ground, goal):
+        """The goals that are left, and the way back from these to the goal."""
+        return super().work(ground, goal)
 
     def turned(self, way):
         """No."""
@@ -121,6 +165,10 @@ class Apart(Worker):
 
     def __init__(self, number):
         self._number = number
+
+    def work(self, ground, goal):
+        """The goals that are left, and the way back from these to the goal."""
+        return super().work(ground, goal)
 
     def turned(self, way):
         """What comes is told by the given saying's word."""
@@ -201,6 +249,10 @@ class At(Worker):
         self._number = number
         self._term = term
 
+    def work(self, ground, goal):
+        """The goals that are left, and the way back from these to the goal."""
+        return super().work(ground, goal)
+
     def turned(self, way):
         """S, the body opened by the term."""
         saying = way.given_at(self._number)
@@ -218,6 +270,10 @@ class Put(Worker):
         self._number = number
         self._kind = kind
         self._body = body
+
+    def work(self, ground, goal):
+        """The goals that are left, and the way back from these to the goal."""
+        return super().work(ground, goal)
 
     def turned(self, way):
         """The body opened by s."""

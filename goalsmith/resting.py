@@ -152,6 +152,10 @@ class Rewrite(Worker):
         self._sources = list(sources)
         self._most = most
 
+    def work(self, ground, goal):
+        """The goals that are left, and the way back from these to the goal."""
+        return super().work(ground, goal)
+
     def turned(self, way):
         """The saying that comes; nothing where that is t = t."""
         ground = way.ground()

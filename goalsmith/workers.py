@@ -5,17 +5,18 @@ from goalsmith.goals import is_goal
 from goalsmith.ways import Way
 
 
+def need_goal(ground, thing):
+    """A thing to which a worker is put, whatever it is, must be a goal of the ground."""
+    if not is_goal(ground, thing):
+        raise Fails("a worker is put to a goal")
+
+
 class Worker:
     """Turns a goal into goals, with a way that leads back, or fails; it keeps nothing of the goal."""
 
     def work(self, ground, goal):
         """The goals that are left, and the way back from these to the goal, which may be anything."""
-        if not is_goal(ground, goal):
-            raise Fails("a worker is put to a goal")
-        return self.led(ground, goal)
-
-    def led(self, ground, goal):
-        """The goals that are left, and the way back, of what is a goal."""
+        need_goal(ground, goal)
         way = Way(ground, goal)
         try:
             number = self.turned(way)

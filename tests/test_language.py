@@ -271,6 +271,14 @@ class TestInterface(unittest.TestCase):
             self.assertTrue(issubclass(one, import_module("goalsmith.workers").Worker))
             self.assertEqual([other for other in found if issubclass(one, other)], [one])
 
+    def test_work_stands_in_each_worker(self):
+        """What a class inherits does not do: each worker has in its own body the method by which it answers."""
+        for stem, word in WORKERS + [("workers", "Worker")]:
+            bodies = [node.body for node in TREES[stem].body if isinstance(node, ast.ClassDef) and node.name == word]
+            self.assertEqual(len(bodies), 1, word)
+            told = [node for node in bodies[0] if isinstance(node, ast.FunctionDef) and node.name == "work"]
+            self.assertEqual([[one.arg for one in node.args.args] for node in told], [["self", "ground", "goal"]], word)
+
 
 if __name__ == "__main__":
     unittest.main()
