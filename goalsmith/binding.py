@@ -5,8 +5,8 @@ Each is put to the ground, to what the used steps hold, and to what stands in br
 
 from goalsmith.givens import is_free_in, less, need, parts_of, together
 from goalsmith.names import is_name
-from goalsmith.sayings import is_body, opened, shut
-from goalsmith.terms import is_term, kind_of
+from goalsmith.sayings import is_opened_to, opened, shut
+from goalsmith.terms import MOST_SIGNS_HELD, is_term, is_term_to, kind_of
 
 
 def _need_term(ground, kind, thing):
@@ -34,9 +34,9 @@ def by_there(ground, used, told):
     """Some, of the body opened by a term."""
     given, saying = used[0]
     kind, body, term = told
-    need(is_body(ground, kind, body), "a kind and a body of it are due in brackets")
+    need(ground.is_kind(kind), "a kind is due in brackets")
     _need_term(ground, kind, term)
-    need(saying == opened(body, term), "the saying is the body opened by the term")
+    need(is_opened_to(body, term, saying), "the saying is a body of the kind, opened by the term")
     return given, ("some", kind, body)
 
 
@@ -53,7 +53,7 @@ def by_name(ground, used, told):
 
 def by_alike(ground, used, told):
     """t = t."""
-    need(is_term(ground, told[0]), "a term of the ground is due in brackets")
+    need(is_term_to(ground, told[0], MOST_SIGNS_HELD), "a term of the ground is due in brackets")
     return (), ("same", told[0], told[0])
 
 
@@ -62,9 +62,8 @@ def by_put(ground, used, told):
     (given, same), (others, saying) = used
     one, other = parts_of(same, "same")
     kind, body = told
-    need(is_body(ground, kind, body), "a kind and a body of it are due in brackets")
-    _need_term(ground, kind, one)
-    need(saying == opened(body, one), "the second saying is the body opened by the first term")
+    need(ground.is_kind(kind) and kind_of(ground, one) == kind, "the terms' kind is due in brackets")
+    need(is_opened_to(body, one, saying), "the second saying is a body of the kind, opened by the first term")
     return together(given, others), opened(body, other)
 
 

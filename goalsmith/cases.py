@@ -1,6 +1,6 @@
 """Workers by cases: a saying and its contrary, and all makers of a kind."""
 
-from goalsmith.terms import MOST_SIGNS, has_more_signs, is_term, kind_of
+from goalsmith.terms import MOST_SIGNS, is_term_to, kind_of
 from goalsmith.ways import demand
 from goalsmith.workers import Worker
 
@@ -26,8 +26,8 @@ class ByCases(Worker):
 
     def turned(self, way):
         """S, A; S, not A."""
-        one = way.left(way.saying(), [self._case])
-        other = way.left(way.saying(), [("not", self._case)])
+        one = way.left_with([self._case])
+        other = way.left_with([("not", self._case)])
         return of_both_cases(way, self._case, one, other)
 
 
@@ -45,7 +45,7 @@ class ByMakers(Worker):
         """For each maker S, t = the maker of new names."""
         ground = way.ground()
         term = self._term
-        demand(not has_more_signs(term, MOST_SIGNS) and is_term(ground, term), "a term of the ground is due")
+        demand(is_term_to(ground, term, MOST_SIGNS), "a term of the ground is due")
         kind = kind_of(ground, term)
         demand(not ground.is_open(kind), "a term of a told kind is due")
         cases = []
@@ -55,7 +55,7 @@ class ByMakers(Worker):
             names.append(tuple(way.names_for([term], len(takes))))
             made = ("made", f, tuple([("name", x, taken) for x, taken in zip(names[-1], takes)]))
             same = ("same", term, made)
-            cases.append(way.step("so", (way.left(way.saying(), [same]),), same))
+            cases.append(way.step("so", (way.left_with([same]),), same))
         body = ("so", ("same", term, ("bound", 0)), way.saying())
         of_all = way.step("down", cases, kind, body, tuple(names))
         return way.step("use", (way.step("at", (of_all,), term), way.step("alike", (), term)))

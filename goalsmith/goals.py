@@ -3,8 +3,8 @@
 from goalsmith.errors import NoGoal
 from goalsmith.givens import each_once
 from goalsmith.names import is_name, text_at
-from goalsmith.sayings import is_saying
-from goalsmith.terms import MOST_SIGNS, has_more_signs, is_great, note_names
+from goalsmith.sayings import is_saying_to
+from goalsmith.terms import MOST_SIGNS, is_great, note_names
 
 MOST_GIVEN = 20
 
@@ -13,9 +13,19 @@ def goal_of(ground, given, saying):
     """The goal of a list of given sayings and a saying, whatever these are."""
     if not isinstance(given, list):
         raise NoGoal("what is given is handed in as a list")
-    for one in given + [saying]:
-        if has_more_signs(one, MOST_SIGNS) or not is_saying(ground, one) or is_great(one):
+    need_sayings(ground, given + [saying])
+    return goal_with(given, saying)
+
+
+def need_sayings(ground, things):
+    """Each of these things, whatever they are, must be a saying that may stand in a goal."""
+    for thing in things:
+        if not is_saying_to(ground, thing, MOST_SIGNS) or is_great(thing):
             raise NoGoal("a goal has sayings of the ground that are not great")
+
+
+def goal_with(given, saying):
+    """The goal of a list of given sayings and a saying, each of which may stand in a goal."""
     told = each_once(given)
     if len(told) > MOST_GIVEN:
         raise NoGoal("at most twenty sayings are given in a goal")

@@ -8,6 +8,8 @@ MOST_KINDS = 8
 MOST_MAKERS = 6
 MOST_TAKEN = 4
 MOST_WORKS = 16
+# What stands for what neither takes nor gives anything.
+NOTHING = (None, None)
 
 
 class Ground:
@@ -15,8 +17,8 @@ class Ground:
 
     def __init__(self, kinds, works):
         self._makers = {}
-        self._takes = {}
-        self._gives = {}
+        # For each maker and work the kinds that it takes, and the one that it gives.
+        self._told = {}
         self._falls_at = {}
         self._rights = {}
         _need(_is_list(kinds, MOST_KINDS), "kinds are a list of at most eight")
@@ -36,7 +38,7 @@ class Ground:
             self._add_maker(kind, maker)
         if makers:
             _need(
-                any(kind not in self._takes[f] for f in self._makers[kind]),
+                any(kind not in self.takes(f) for f in self._makers[kind]),
                 "one maker at least does not take its own kind",
             )
 
@@ -48,8 +50,7 @@ class Ground:
         for taken in takes:
             _need(self.is_kind(taken), "what a maker takes is a kind told ahead, or its own")
             _need(taken == kind or not self.is_open(taken), "what a maker takes is no open kind")
-        self._takes[f] = tuple(takes)
-        self._gives[f] = kind
+        self._told[f] = (tuple(takes), kind)
         self._makers[kind] += (f,)
 
     def _add_work(self, told):
@@ -61,8 +62,7 @@ class Ground:
         _need(self.is_kind(gives), "a work gives a kind")
         _need(isinstance(rights, list), "rights are a list")
         makers = self._makers_falling(takes, at, rights)
-        self._takes[f] = tuple(takes)
-        self._gives[f] = gives
+        self._told[f] = (tuple(takes), gives)
         self._falls_at[f] = at
         self._rights[f] = ()
         for maker, right in zip(makers, rights):
@@ -82,7 +82,7 @@ class Ground:
 
     def _need_new(self, name):
         _need(is_name(name), "a kind, a maker or a work has a name")
-        _need(name not in self._makers and name not in self._takes, "all names are unlike")
+        _need(name not in self._makers and name not in self._told, "all names are unlike")
 
     def kinds(self):
         """All kinds, as handed in."""
@@ -94,17 +94,19 @@ class Ground:
 
     def takes(self, f):
         """The kinds that a maker or a work takes."""
-        return list(self._takes[f])
+        takes, _ = self._told[f]
+        return list(takes)
 
     def gives(self, f):
         """The kind that a maker or a work gives."""
-        return self._gives[f]
+        _, gives = self._told[f]
+        return gives
 
     def takes_and_gives(self, thing):
-        """The kinds, as a tuple, that a maker or a work takes, and the one that it gives; None of anything else."""
-        if not isinstance(thing, str) or thing not in self._takes:
-            return None
-        return self._takes[thing], self._gives[thing]
+        """The kinds, as a tuple, that a maker or a work takes, and the one that it gives; of anything else NOTHING."""
+        if not isinstance(thing, str):
+            return NOTHING
+        return self._told.get(thing, NOTHING)
 
     def makers(self, kind):
         """The names of a kind's makers; none of an open one."""
@@ -116,7 +118,7 @@ class Ground:
 
     def is_maker(self, thing):
         """Whether a thing, whatever it is, is a maker."""
-        return isinstance(thing, str) and thing in self._takes and thing not in self._rights
+        return isinstance(thing, str) and thing in self._told and thing not in self._rights
 
     def is_work(self, thing):
         """Whether a thing, whatever it is, is a work."""

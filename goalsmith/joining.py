@@ -4,11 +4,12 @@ Each is put to the ground, to what the used steps hold, and to what stands in br
 """
 
 from goalsmith.givens import less, need, parts_of, together
-from goalsmith.sayings import is_saying
+from goalsmith.sayings import is_saying_to
+from goalsmith.terms import MOST_SIGNS_HELD
 
 
 def _saying_told(ground, told):
-    need(is_saying(ground, told[0]), "a saying of the ground is due in brackets")
+    need(is_saying_to(ground, told[0], MOST_SIGNS_HELD), "a saying of the ground is due in brackets")
     return told[0]
 
 

@@ -35,6 +35,9 @@ class Kernel:
     def by_lent(self, goal):
         """A goal, lent."""
         need(is_goal(self._ground, goal), "a goal of the ground is lent")
+        return self._lent(goal)
+
+    def _lent(self, goal):
         given, saying = goal
         return self._kept(Held("lent", (), (goal,), given, saying))
 
@@ -143,7 +146,7 @@ class Kernel:
             need_step(step, len(helds))
             rule, uses, told = step
             if rule == "lent":
-                helds.append(self.by_lent(lent_goal(self._ground, lent, told)))
+                helds.append(self._lent(lent_goal(self._ground, lent, told)))
             else:
                 helds.append(self._by(rule, [helds[use] for use in uses], told))
         return helds[-1]

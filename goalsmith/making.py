@@ -6,14 +6,15 @@ Each is put to the ground, to what the used steps hold, and to what stands in br
 from goalsmith.givens import is_free_in, less, need, parts_of, together
 from goalsmith.names import is_name, is_whole
 from goalsmith.rights import filled_right
-from goalsmith.sayings import is_body, is_saying, opened
-from goalsmith.terms import is_term
+from goalsmith.sayings import is_body_to, is_saying_to, opened
+from goalsmith.terms import MOST_SIGNS_HELD, is_term_to
 
 
 def by_equation(ground, used, told):
     """t = the right for it."""
     term = told[0]
-    need(is_term(ground, term) and has_right(ground, term), "a term with a right is due in brackets")
+    need(is_term_to(ground, term, MOST_SIGNS_HELD), "a term of the ground is due in brackets")
+    need(has_right(ground, term), "the term has a right")
     return (), ("same", term, filled_right(ground, term))
 
 
@@ -41,7 +42,7 @@ def by_unlike(ground, used, told):
     given, saying = used[0]
     one, other = _sides_by_makers(ground, saying)
     need(one[1] != other[1], "the makers are unlike")
-    need(is_saying(ground, told[0]), "a saying of the ground is due in brackets")
+    need(is_saying_to(ground, told[0], MOST_SIGNS_HELD), "a saying of the ground is due in brackets")
     return given, told[0]
 
 
@@ -59,7 +60,7 @@ def by_down(ground, used, told):
     """All kind body, of the body opened by each maker, which may be given the body opened by what the maker takes."""
     kind, body, names = told
     need(ground.is_kind(kind) and not ground.is_open(kind), "a told kind is due in brackets")
-    need(is_body(ground, kind, body), "a body of the kind is due in brackets")
+    need(is_body_to(ground, kind, body, MOST_SIGNS_HELD), "a body of the kind is due in brackets")
     makers = ground.makers(kind)
     need(len(used) == len(makers), "there is a step for each maker")
     need(isinstance(names, tuple) and len(names) == len(makers), "there are names for each maker")

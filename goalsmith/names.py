@@ -9,7 +9,7 @@ def is_name(thing):
     """Whether a thing, whatever it is, is a NAME."""
     if not isinstance(thing, str) or not 1 <= len(thing) <= MOST_LETTERS:
         return False
-    return thing not in WORDS and all(letter in LETTERS for letter in thing)
+    return thing.isascii() and thing.isalpha() and thing.islower() and thing not in WORDS
 
 
 def is_whole(thing):

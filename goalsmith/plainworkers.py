@@ -133,7 +133,7 @@ class Cut(Worker):
     def turned(self, way):
         """A; S, A."""
         number = way.left(self._between, [])
-        return way.leaned(way.left(way.saying(), [self._between]), self._between, number)
+        return way.leaned(way.left_with([self._between]), self._between, number)
 
 
 class Contrary(Worker):
@@ -191,7 +191,7 @@ def _apart_not(way, saying):
 
 def _apart_and(way, saying):
     _, one, other = saying
-    number = way.left(way.saying(), [one, other])
+    number = way.left_with([one, other])
     taken = way.taken(saying)
     number = way.leaned(number, one, way.step("left", (taken,)))
     return way.leaned(number, other, way.step("right", (taken,)))
@@ -199,21 +199,21 @@ def _apart_and(way, saying):
 
 def _apart_or(way, saying):
     _, one, other = saying
-    cases = (way.left(way.saying(), [one]), way.left(way.saying(), [other]))
+    cases = (way.left_with([one]), way.left_with([other]))
     return way.step("either", (way.taken(saying),) + cases)
 
 
 def _apart_so(way, saying):
     _, supposed, held = saying
     one = way.left(supposed, [])
-    other = way.left(way.saying(), [held])
+    other = way.left_with([held])
     return way.leaned(other, held, way.step("use", (way.taken(saying), one)))
 
 
 def _apart_some(way, saying):
     _, kind, body = saying
     x = way.names_for([], 1)[0]
-    number = way.left(way.saying(), [opened(body, ("name", x, kind))])
+    number = way.left_with([opened(body, ("name", x, kind))])
     return way.step("name", (way.taken(saying), number), x)
 
 
@@ -225,7 +225,7 @@ def _apart_same(way, saying):
         return way.step("unlike", (taken,), way.saying())
     parts = [("same", part, mate) for part, mate in zip(one[2], other[2])]
     demand(parts, "the maker takes nothing")
-    number = way.left(way.saying(), parts)
+    number = way.left_with(parts)
     for place, part in enumerate(parts):
         number = way.leaned(number, part, way.step("part", (taken,), place))
     return number
@@ -259,7 +259,7 @@ class At(Worker):
         demand(saying[0] == "all", "this given saying is not of all")
         _, kind, body = saying
         held = opened(body, self._term)
-        number = way.left(way.saying(), [held])
+        number = way.left_with([held])
         return way.leaned(number, held, way.step("at", (way.taken(saying),), self._term))
 
 

@@ -6,7 +6,7 @@ from goalsmith.goals import is_goal
 from goalsmith.joining import JOINING
 from goalsmith.making import MAKING
 from goalsmith.names import is_whole
-from goalsmith.terms import MOST_SIGNS_HELD, has_more_signs, is_too_great
+from goalsmith.terms import is_too_great
 
 MOST_GIVEN = 60
 
@@ -68,9 +68,6 @@ def held_by(ground, rule, used, told):
         act = BINDING[rule]
     else:
         act = MAKING[rule]
-    # All that stands in brackets comes to stand in what is held, but for terms that may be put where nothing is meant.
-    for thing in told[:-1] if rule in ("at", "there") else told:
-        need(not has_more_signs(thing, MOST_SIGNS_HELD), "what is in brackets is not too great")
     given, saying = act(ground, used, told)
     need(not is_too_great(saying), "what is held is not too great")
     need(len(given) <= MOST_GIVEN, "at most sixty sayings are given")

@@ -61,4 +61,4 @@ class Use(Worker):
         demand(all(saying in way.given() for saying in self._held.given()), "what goes with what is held is not given")
         number = way.opened_by(way.embedded(self._held), self._terms)
         _, saying = way.held_at(number)
-        return way.leaned(way.left(way.saying(), [saying]), saying, number)
+        return way.leaned(way.left_with([saying]), saying, number)

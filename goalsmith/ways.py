@@ -2,7 +2,7 @@
 
 from goalsmith.errors import Fails
 from goalsmith.givens import need, parts_of
-from goalsmith.goals import goal_of, new_names
+from goalsmith.goals import goal_with, need_sayings, new_names
 from goalsmith.names import is_whole
 from goalsmith.papers import cut
 from goalsmith.steps import held_by
@@ -56,7 +56,17 @@ class Way:
 
     def left(self, saying, more):
         """Leave a goal, with what is given and a list of more; the number of the step that lends it."""
-        goal = goal_of(self._ground, list(self._given) + more, saying)
+        need_sayings(self._ground, [saying])
+        return self._lent(saying, more)
+
+    def left_with(self, more):
+        """Leave the goal's saying, with what is given and a list of more; the number of the step that lends it."""
+        return self._lent(self._saying, more)
+
+    def _lent(self, saying, more):
+        # What is given in the goal, and its saying, may stand in a goal; so only what is new is looked through.
+        need_sayings(self._ground, more)
+        goal = goal_with(list(self._given) + more, saying)
         self._goals.append(goal)
         return self._written(("lent", (), (len(self._goals) - 1,)), goal)
 

@@ -45,6 +45,12 @@ def wide(signs):
     return made("fork", wide(half), wide(signs - 1 - half))
 
 
+def depth_of(thing):
+    """How many tuples of a term or a saying stand one within another."""
+    inner = thing[2] if thing[0] == "made" else [part for part in thing[1:] if isinstance(part, tuple)]
+    return 1 + max([depth_of(part) for part in inner], default=0)
+
+
 def doubled(many):
     """A data of more than two to the power of so many signs, each tuple of which stands in two places."""
     data = made("leaf")

@@ -4,7 +4,7 @@ import unittest
 from goalsmith.errors import NoRule
 from goalsmith.kernel import Kernel
 from goalsmith.reader import read_paper
-from goalsmith.terms import depth_of, signs_of
+from goalsmith.terms import signs_of
 from tests.papersupport import (
     A,
     B,
@@ -22,7 +22,7 @@ from tests.papersupport import (
     numbered,
     same,
 )
-from tests.support import THINGS, ZERO, Alike, doubled, made, name, num, refused, wide
+from tests.support import THINGS, ZERO, Alike, depth_of, doubled, made, name, num, refused, wide
 
 LENT = [((), P), ((P,), Q), (given(Q, R), NO)]
 

@@ -5,9 +5,9 @@ from goalsmith.data import is_data
 from goalsmith.errors import NoData, TooFar
 from goalsmith.grounds import Ground
 from goalsmith.reckoning import worth
-from goalsmith.terms import MOST_DEEP, MOST_SIGNS, depth_of, signs_of
+from goalsmith.terms import MOST_DEEP, MOST_SIGNS, signs_of
 from goalsmith.termtexts import read_ground, read_term
-from tests.support import KINDS, THINGS, WORKS, XA, ZERO, ground, listed, made, name, num, refused, wide
+from tests.support import KINDS, THINGS, WORKS, XA, ZERO, depth_of, ground, listed, made, name, num, refused, wide
 
 GROUND = ground()
 

@@ -11,7 +11,7 @@ from goalsmith.reader import read_paper
 from goalsmith.reckoning import worth
 from goalsmith.resting import at_rest, rewrites, rewritten, to_rest
 from goalsmith.rules import held_rule
-from goalsmith.terms import depth_of, signs_of
+from goalsmith.terms import signs_of
 from tests.papersupport import A, B, C, GROUND, NO, NO_NUMBERS, NO_TERMS, P, Q, given, same
 from tests.rulesupport import (
     LEAF,
@@ -31,7 +31,7 @@ from tests.rulesupport import (
     taken_rule,
     tips,
 )
-from tests.support import THINGS, ZERO, Alike, listed, made, name, num, refused, wide
+from tests.support import THINGS, ZERO, Alike, depth_of, listed, made, name, num, refused, wide
 
 ALL_WORKS = [work[0] for work in GROUND.works()]
 RULES = rules_of(GROUND, "add", "twice", "one", "len", "first")

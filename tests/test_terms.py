@@ -1,6 +1,7 @@
 import unittest
 
-from goalsmith.terms import has_more_signs, is_term, is_too_great, kind_of, names_of, signs_of
+from goalsmith.sayings import is_saying_to
+from goalsmith.terms import is_great, is_term, is_term_to, is_too_great, kind_of, names_of, signs_of
 from tests.support import THINGS, XA, ZERO, Alike, deep_tuple, doubled, ground, listed, made, name, num, wide
 
 GROUND = ground()
@@ -100,16 +101,28 @@ class TestAsked(unittest.TestCase):
         self.assertFalse(is_too_great(num(59)))
         self.assertTrue(is_too_great(num(60)))
 
-    def test_more_signs(self):
-        """A term of so many signs has twice as many tuples; no saying has more."""
+    def test_great(self):
+        for many, great in ((199, False), (200, False), (201, True), (300, True)):
+            self.assertIs(is_great(wide(many)), great)
+        self.assertFalse(is_great(num(39)))
+        self.assertTrue(is_great(num(40)))
+        self.assertFalse(is_great(("same", num(38), XA)))
+        self.assertTrue(is_great(("same", XA, num(39))))
+        self.assertFalse(is_great(("and", ("same", wide(98), XA), ("same", wide(97), XA))))
+        self.assertTrue(is_great(("and", ("same", wide(98), XA), ("same", wide(98), XA))))
+
+    def test_of_so_many_signs(self):
+        """A term of so many signs has twice as many tuples, where all are made."""
         for many in (1, 2, 3, 200, 1000):
-            self.assertFalse(has_more_signs(wide(many), many))
-            self.assertTrue(has_more_signs(wide(many + 1), many))
-            self.assertFalse(has_more_signs(("same", wide(many), wide(many)), 2 * many + 1))
-            self.assertTrue(has_more_signs(("same", wide(many), wide(many)), 2 * many - 1))
-        self.assertTrue(has_more_signs(doubled(100), 1000))
-        for thing in THINGS:
-            self.assertFalse(has_more_signs(thing, 200))
+            self.assertTrue(is_term_to(GROUND, wide(many), many))
+            self.assertFalse(is_term_to(GROUND, wide(many + 1), many))
+            self.assertTrue(is_term_to(GROUND, made("fork", wide(many), wide(many)), 2 * many + 1))
+            self.assertFalse(is_term_to(GROUND, made("fork", wide(many), wide(many)), 2 * many))
+        self.assertFalse(is_term_to(GROUND, doubled(100), 1000))
+        self.assertTrue(is_saying_to(GROUND, ("same", ZERO, ZERO), 3))
+        self.assertFalse(is_saying_to(GROUND, ("same", ZERO, ZERO), 2))
+        for thing in THINGS + [Alike(), made("next", Alike()), made("next", ("bound", 0))]:
+            self.assertFalse(is_term_to(GROUND, thing, 200))
 
     def test_names_of(self):
         self.assertEqual(names_of(ZERO), [])
