@@ -7,10 +7,9 @@ from goalsmith.papers import cut
 from goalsmith.reader import read_paper
 from goalsmith.sayings import free_in, is_saying
 from goalsmith.sayingtexts import read_saying
-from goalsmith.steps import held_by
 from goalsmith.termtexts import read_ground
 from goalsmith.works import work_and_names
-from goalsmith.writers import Writer
+from goalsmith.writers import StepWriter
 
 HELD_ROW = "held "
 BY_ROW = "by "
@@ -62,19 +61,16 @@ class Book:
         entries = []
         for name in self._told:
             goals = [(numbers[lean], ((), self.saying(lean))) for lean in self.leans(name)]
-            entries.append((name, self.saying(name), _leaning(self._ground, self.held(name).paper(), goals)))
+            entries.append((name, self.saying(name), _leaning(self.held(name), goals)))
         return entries
 
 
-def _leaning(ground, paper, goals):
-    """A paper with these goals, each with its number, lent in the place of the steps that hold them."""
-    helds = []
+def _leaning(held, goals):
+    """A held thing's paper, with these goals, each with its number, lent in the place of the steps that hold them."""
     numbers = []
-    writer = Writer()
-    for rule, uses, told in paper:
-        held = held_by(ground, rule, [helds[use] for use in uses], told)
-        helds.append(held)
-        lent = [number for number, goal in goals if goal == held]
+    writer = StepWriter()
+    for (rule, uses, told), here in zip(held.paper(), held.held_by_steps()):
+        lent = [number for number, goal in goals if goal == here]
         if lent:
             numbers.append(writer.number_of(("lent", (), (lent[0],))))
         else:
@@ -107,18 +103,34 @@ def read_book(text):
 def _ground_of(rows):
     """How many rows the ground has, and the ground."""
     many = 0
-    ground = read_ground("")
-    while many < len(rows) and _is_of_ground(rows[many]):
+    while many < len(rows) and (rows[many].startswith("kind ") or rows[many].startswith("work ")):
         many += 1
-        try:
-            ground = read_ground("".join([row + "\n" for row in rows[:many]]))
-        except (NoText, NoGround):
-            raise BadText(many)
+    ground = _ground_in(rows[:many])
+    if ground is None:
+        raise BadText(_first_refused(rows[:many]))
     return many, ground
 
 
-def _is_of_ground(row):
-    return row.startswith("kind ") or row.startswith("work ")
+def _ground_in(rows):
+    """The ground of these rows, or None."""
+    try:
+        return read_ground("".join([row + "\n" for row in rows]))
+    except (NoText, NoGround):
+        return None
+
+
+def _first_refused(rows):
+    """The number, from 1, of the first row down to which these rows make no ground; all of them make none."""
+    # Where some rows make none, these and more make none either: so each look halves where the row may be.
+    made = 0
+    unmade = len(rows)
+    while unmade - made > 1:
+        many = (made + unmade) // 2
+        if _ground_in(rows[:many]) is None:
+            unmade = many
+        else:
+            made = many
+    return unmade
 
 
 def _saying_row(rows, at):

@@ -3,8 +3,8 @@
 from goalsmith.errors import NoGoal
 from goalsmith.givens import each_once
 from goalsmith.names import is_name, text_at
-from goalsmith.sayings import is_saying_to
-from goalsmith.terms import MOST_SIGNS, is_great, note_names
+from goalsmith.sayings import is_saying_within
+from goalsmith.terms import MOST_DEEP, MOST_SIGNS, is_great, note_names, room_for
 
 MOST_GIVEN = 20
 
@@ -20,8 +20,13 @@ def goal_of(ground, given, saying):
 def need_sayings(ground, things):
     """Each of these things, whatever they are, must be a saying that may stand in a goal."""
     for thing in things:
-        if not is_saying_to(ground, thing, MOST_SIGNS) or is_great(thing):
-            raise NoGoal("a goal has sayings of the ground that are not great")
+        room = room_for(MOST_SIGNS)
+        most = room[0]
+        if not is_saying_within(ground, thing, (), room):
+            raise NoGoal("a goal has sayings of the ground")
+        # What has as few tuples as may stand one within another is not great.
+        if most - room[0] > MOST_DEEP and is_great(thing):
+            raise NoGoal("a goal has no sayings that are great")
 
 
 def goal_with(given, saying):

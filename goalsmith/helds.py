@@ -1,6 +1,6 @@
 """Held things: what a kernel has made, each by one rule of others."""
 
-from goalsmith.writers import Writer
+from goalsmith.writers import GoalWriter, StepWriter
 
 
 class Held:
@@ -12,11 +12,11 @@ class Held:
         self.told = told
         self._given = given
         self._saying = saying
-        self._lent_and_steps = None
+        self._whole = None
 
     def lent(self):
         """The goals that were lent to it, each once, by whose numbers its paper names them."""
-        goals, _ = self._once_written()
+        goals, _, _ = self._once_written()
         return list(goals)
 
     def given(self):
@@ -29,27 +29,35 @@ class Held:
 
     def paper(self):
         """Its paper, in which no two steps are the same."""
-        _, steps = self._once_written()
+        _, steps, _ = self._once_written()
         return list(steps)
+
+    def held_by_steps(self):
+        """For each step of its paper what is given there, and what it holds."""
+        _, _, held = self._once_written()
+        return list(held)
 
     def _once_written(self):
         # What is held stays as it is, and its paper may be asked for again and again.
-        if self._lent_and_steps is None:
-            self._lent_and_steps = _written(self)
-        return self._lent_and_steps
+        if self._whole is None:
+            self._whole = _whole_of(self)
+        return self._whole
 
 
-def _written(held):
-    """The goals lent to a held thing, and its paper."""
-    goals = Writer()
-    steps = Writer()
+def _whole_of(held):
+    """The goals lent to a held thing, its paper, and what each step of this holds."""
+    goals = GoalWriter()
+    steps = StepWriter()
     numbers = {}
+    held_by_steps = []
     for one in _in_order(held):
         told = one.told
         if one.rule == "lent":
             told = (goals.number_of(told[0]),)
         numbers[one] = steps.number_of((one.rule, tuple([numbers[use] for use in one.uses]), told))
-    return goals.row(), steps.row()
+        if numbers[one] == len(held_by_steps):
+            held_by_steps.append((one.given(), one.saying()))
+    return goals.row(), steps.row(), held_by_steps
 
 
 def _in_order(held):

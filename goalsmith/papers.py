@@ -1,6 +1,6 @@
 """Papers: laid together, what they lean on, and cut."""
 
-from goalsmith.writers import Writer
+from goalsmith.writers import StepWriter
 
 
 def laid_in(paper, parts):
@@ -8,7 +8,7 @@ def laid_in(paper, parts):
     firsts = [0]
     for _, many in parts:
         firsts.append(firsts[-1] + many)
-    writer = Writer()
+    writer = StepWriter()
     ends = {}
     numbers = []
     for rule, uses, told in paper:

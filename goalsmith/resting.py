@@ -5,8 +5,9 @@ from goalsmith.greatest import greatest_parts, with_greatest
 from goalsmith.matching import filled, fitting
 from goalsmith.names import is_whole
 from goalsmith.places import has_place, part_at, parts_with_places, put_at
+from goalsmith.sayings import opened
 from goalsmith.sources import equation_of, given_with, rules_of
-from goalsmith.terms import is_great, is_term, is_too_great, kind_of
+from goalsmith.terms import is_great, is_term, is_too_great
 from goalsmith.ways import Way, demand
 from goalsmith.workers import Worker
 
@@ -74,7 +75,7 @@ def led_to_rest(ground, rules, term, most):
         if is_great(here):
             raise TooFar("a term that is great would come")
         told.append(rewrite)
-        rewrite = _last_rewrite(ground, rules, here, ())
+        rewrite = _next_rewrite(ground, rules, here, rewrite[0])
     return told, here
 
 
@@ -82,15 +83,42 @@ def _last_rewrite(ground, rules, term, place):
     """The rewrite of what stands at a place, at the last place in it at which there is one, or None."""
     if term[0] != "made":
         return None
-    for at in reversed(range(len(term[2]))):
-        found = _last_rewrite(ground, rules, term[2][at], place + (at,))
+    found = _last_in_parts(ground, rules, term[2], place)
+    return _rewrite_at(ground, rules, term, place) if found is None else found
+
+
+def _last_in_parts(ground, rules, parts, place):
+    """The rewrite at the last place in these first parts of what stands at a place, or None."""
+    for at in reversed(range(len(parts))):
+        found = _last_rewrite(ground, rules, parts[at], place + (at,))
         if found is not None:
             return found
+    return None
+
+
+def _rewrite_at(ground, rules, term, place):
+    """The rewrite of what stands at a place, just there, or None."""
     for k, rule in enumerate(rules):
         parts = fitting(ground, rule, term)
         if parts is not None:
             return (place, k, parts)
     return None
+
+
+def _next_rewrite(ground, rules, term, place):
+    """The rewrite of a term at the last place at which there is one, or None, where just this place was rewritten.
+
+    Behind the place, but for what stands in it, there was none, and there is none now.
+    """
+    found = _last_rewrite(ground, rules, part_at(term, place), place)
+    while found is None and place:
+        at = place[-1]
+        place = place[:-1]
+        around = part_at(term, place)
+        found = _last_in_parts(ground, rules, around[2][:at], place)
+        if found is None:
+            found = _rewrite_at(ground, rules, around, place)
+    return found
 
 
 def at_rest(kernel, sources, term, most=100):
@@ -113,35 +141,34 @@ def _same_at_rest(way, sources, rules, term, end):
     sides = _sides(rules, term, told)
     if told and is_too_great(("same", term, term)):
         return _same_by_contrary(way, sources, rules, told, sides, ("same", term, rest))
-    bodies = [("same", term, side) for side in sides]
-    return _put_one_by_one(way, sources, rules, told, way.step("alike", (), term), bodies)
+    pairs = [(("same", term, side), ("same", term, after)) for side, after in sides]
+    return _put_one_by_one(way, sources, rules, told, way.step("alike", (), term), pairs)
 
 
 def _same_by_contrary(way, sources, rules, told, sides, same):
     """The same, without a step that says of the term that it is itself."""
     _, _, rest = same
-    bodies = [("not", ("same", side, rest)) for side in sides]
-    number = _put_one_by_one(way, sources, rules, told, way.taken(("not", same)), bodies)
+    pairs = [(("not", ("same", side, rest)), ("not", ("same", after, rest))) for side, after in sides]
+    number = _put_one_by_one(way, sources, rules, told, way.taken(("not", same)), pairs)
     return way.step("back", (way.step("clash", (way.step("alike", (), rest), number)),), same)
 
 
 def _sides(rules, term, told):
-    """For each rewrite the term as it was ahead of it, with what is rewritten as what is meant."""
+    """For each rewrite the term ahead of it, with what is rewritten as what is meant, and the term that comes of it."""
     sides = []
     here = term
     for rewrite in told:
-        sides.append(put_at(here, rewrite[0], ("bound", 0)))
+        side = put_at(here, rewrite[0], ("bound", 0))
         here = _after(rules, here, rewrite)
+        sides.append((side, here))
     return sides
 
 
-def _put_one_by_one(way, sources, rules, told, start, bodies):
-    """Write how each rewrite leads from one of these bodies to the next; the number of the last step."""
+def _put_one_by_one(way, sources, rules, told, start, pairs):
+    """Write how each rewrite leads, by a body, to a saying, of pairs of these; the number of the last step."""
     number = start
-    for (_, k, parts), body in zip(told, bodies):
-        equation = equation_of(way, sources[k], rules[k], parts)
-        _, one, _ = way.held_at(equation)[1]
-        number = way.step("put", (equation, number), kind_of(way.ground(), one), body)
+    for (_, k, parts), (body, saying) in zip(told, pairs):
+        number = way.put_known(equation_of(way, sources[k], rules[k], parts), number, body, saying)
     return number
 
 
@@ -173,7 +200,7 @@ class Rewrite(Worker):
                 same = way.turned_round(_same_at_rest(way, self._sources, rules, parts[at], ends[at]))
                 body = with_greatest(way.saying(), _exchange(parts, sides, at))
                 sides[at] = parts[at]
-                number = way.step("put", (same, number), kind_of(ground, rest), body)
+                number = way.put_known(same, number, body, opened(body, parts[at]))
         return number
 
 

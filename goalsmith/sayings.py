@@ -15,7 +15,7 @@ def is_saying(ground, thing):
 
 def is_saying_to(ground, thing, most):
     """Whether a thing, whatever it is, is a saying of the ground, of no more tuples than so many signs may have."""
-    return _is_within(ground, thing, (), room_for(most))
+    return is_saying_within(ground, thing, (), room_for(most))
 
 
 def is_body(ground, kind, thing):
@@ -25,10 +25,10 @@ def is_body(ground, kind, thing):
 
 def is_body_to(ground, kind, thing, most):
     """Whether a thing is a body of a kind of the ground, of no more tuples than so many signs may have."""
-    return ground.is_kind(kind) and _is_within(ground, thing, (kind,), room_for(most))
+    return ground.is_kind(kind) and is_saying_within(ground, thing, (kind,), room_for(most))
 
 
-def _is_within(ground, thing, around, room):
+def is_saying_within(ground, thing, around, room):
     """Whether a thing is a saying where all and some of these kinds stand around, the nearest first."""
     room[0] -= 1
     if room[0] < 0 or not isinstance(thing, tuple) or len(thing) == 0 or not isinstance(thing[0], str):
@@ -40,9 +40,9 @@ def _is_within(ground, thing, around, room):
         kind = kind_within(ground, thing[1], around, room)
         return kind is not None and kind == kind_within(ground, thing[2], around, room)
     if word in BINDS:
-        return ground.is_kind(thing[1]) and _is_within(ground, thing[2], (thing[1],) + around, room)
+        return ground.is_kind(thing[1]) and is_saying_within(ground, thing[2], (thing[1],) + around, room)
     for part in thing[1:]:
-        if not _is_within(ground, part, around, room):
+        if not is_saying_within(ground, part, around, room):
             return False
     return True
 

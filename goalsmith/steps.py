@@ -49,7 +49,8 @@ def need_step(thing, at):
     many_used, many_told = COUNTS[rule]
     need(many_used is None or len(uses) == many_used, "the rule uses more or fewer steps")
     need(len(told) == many_told, "more or fewer things are due in brackets")
-    need(all(is_whole(use) and 0 <= use < at for use in uses), "the steps that are used are earlier")
+    for use in uses:
+        need(is_whole(use) and 0 <= use < at, "the steps that are used are earlier")
 
 
 def lent_goal(ground, lent, told):
@@ -69,6 +70,11 @@ def held_by(ground, rule, used, told):
     else:
         act = MAKING[rule]
     given, saying = act(ground, used, told)
+    need_room(given, saying)
+    return given, saying
+
+
+def need_room(given, saying):
+    """What a step holds must not be too great, and no more be given than may be."""
     need(not is_too_great(saying), "what is held is not too great")
     need(len(given) <= MOST_GIVEN, "at most sixty sayings are given")
-    return given, saying

@@ -5,12 +5,12 @@ goals, from the first one on; None stands for a goal that was left.
 """
 
 from goalsmith.papers import cut
-from goalsmith.writers import Writer
+from goalsmith.writers import StepWriter
 
 
 def laid_out(takings):
     """The one way back to which these takings' ways are laid together."""
-    writer = Writer()
+    writer = StepWriter()
     left = takings.count(None)
     ends = []
     # From the last one on: what stands for a taking's goals is written ahead of it.

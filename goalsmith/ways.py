@@ -1,13 +1,13 @@
 """Ways: the papers by which goals that are left lead back to a goal."""
 
 from goalsmith.errors import Fails
-from goalsmith.givens import need, parts_of
+from goalsmith.givens import need, parts_of, together
 from goalsmith.goals import goal_with, need_sayings, new_names
 from goalsmith.names import is_whole
 from goalsmith.papers import cut
-from goalsmith.steps import held_by
+from goalsmith.steps import held_by, need_room
 from goalsmith.terms import kind_of
-from goalsmith.writers import Writer
+from goalsmith.writers import StepWriter
 
 
 def demand(holds, why):
@@ -23,7 +23,7 @@ class Way:
         self._ground = ground
         self._given, self._saying = goal
         self._goals = []
-        self._steps = Writer()
+        self._steps = StepWriter()
         self._held = []
         # A held thing may be needed again and again, and its paper be long.
         self._embedded = {}
@@ -96,9 +96,17 @@ class Way:
 
     def turned_round(self, number):
         """Write that t = s, of a step that holds s = t."""
-        _, one, _ = self._held[number][1]
+        _, one, other = self._held[number][1]
         alike = self.step("alike", (), one)
-        return self.step("put", (number, alike), kind_of(self._ground, one), ("same", ("bound", 0), one))
+        return self.put_known(number, alike, ("same", ("bound", 0), one), ("same", other, one))
+
+    def put_known(self, same, number, body, saying):
+        """Write a step by put, of which is known that it holds the saying: what leads to it is not looked through."""
+        given, (_, one, _) = self._held[same]
+        given = together(given, self._held[number][0])
+        need_room(given, saying)
+        step = ("put", (same, number), (kind_of(self._ground, one), body))
+        return self._written(step, (given, saying))
 
     def embedded(self, held):
         """Write the paper of a held thing, to which nothing is lent; the number of its last step."""
