@@ -244,6 +244,19 @@ class TestBadText(BooksTest):
         self.refuses("kind a\nkind a", NoRow, 2)
         self.refuses(text_of(["kind a" + letter for letter in "bcdefghij"]), BadText, 9)
 
+    def test_each_row_of_a_long_ground(self):
+        """Down to the first bad row the rows make a ground, however many stand behind it, and whatever these are."""
+        rows = ["kind a" + letter for letter in "bcdefgh"] + ["kind num: zero; next(num)"]
+        rows += [f"work f{letter}(num) num at 0: zero; next(f{letter}(ya:num))" for letter in "abcdefghijklmno"] + ["work g num = fa(zero)"]
+        self.assertEqual(len(self.reads(text_of(rows)).ground().works()), 16)
+        for at in range(len(rows)):
+            for bad in ("kind", "work"):
+                for row in (f"{bad} ", f"{bad} A", f"{bad} zero: zero"):
+                    self.refuses(text_of(rows[:at] + [row] + rows[at:]), BadText, at + 1)
+                    self.refuses(text_of(rows[:at] + [row]), BadText, at + 1)
+                    self.refuses(text_of(rows[:at] + [row] + rows[at:] + [row, "held a: zero = zero", "by alike"]), BadText, at + 1)
+        self.refuses(text_of(rows + ["work h num"]), BadText, 25)
+
     def test_sayings(self):
         for saying in ("", " ", "what", "zero", "zero = nil", "zero = zero ", " zero = zero", "a:num = a:num", "all x:num. x:num = y:num", "not a:num = zero", "a:what = a:what",
                        "not " * 40 + "no", "(no and no", "zero = zero\r", "all x:what. no", "some x:num. x:list = x:list"):

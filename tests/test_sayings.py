@@ -1,7 +1,8 @@
+import random
 import unittest
 
-from goalsmith.sayings import free_in, is_body, is_saying, opened, put_in, shut
-from tests.support import THINGS, XA, ZERO, deep_tuple, ground, made, name, num
+from goalsmith.sayings import free_in, is_body, is_opened_to, is_saying, opened, put_in, shut
+from tests.support import THINGS, XA, ZERO, Alike, deep_tuple, doubled, ground, made, name, num
 
 GROUND = ground()
 NO = ("no",)
@@ -146,6 +147,67 @@ class TestOpened(unittest.TestCase):
     def test_a_saying_is_given(self):
         for body in (PAIRS[2], ALL_ZERO[2]):
             self.assertTrue(is_saying(GROUND, opened(body, num(1))))
+
+
+class TestIsOpenedTo(unittest.TestCase):
+    BODIES = [
+        NO,
+        same(bound(0), A),
+        same(made("add", bound(0), made("next", A)), made("len", name("a", "list"))),
+        ("so", ("not", same(bound(0), A)), ("or", NO, ("and", same(A, bound(0)), NO))),
+        ("all", "list", same(made("len", bound(0)), bound(1))),
+        ("some", "num", ("all", "num", ("and", same(made("add", bound(0), bound(2)), bound(1)), same(bound(2), A)))),
+    ]
+    TERMS = [A, ZERO, made("next", A), made("add", A, num(2))]
+
+    def test_bodies(self):
+        for body in self.BODIES:
+            for term in self.TERMS:
+                self.assertTrue(is_opened_to(body, term, opened(body, term)))
+                for other in self.BODIES:
+                    for saying in (opened(other, A), opened(other, ZERO), ("not", opened(body, term))):
+                        self.assertIs(is_opened_to(body, term, saying), opened(body, term) == saying)
+
+    def test_what_is_meant_stands_by_its_number(self):
+        body = ("all", "num", same(bound(1), bound(0)))
+        self.assertTrue(is_opened_to(body, A, ("all", "num", same(A, bound(0)))))
+        for number in (True, False, 1.0, -1, 2, "1", None, Alike()):
+            self.assertFalse(is_opened_to(("all", "num", same(bound(number), bound(0))), A, ("all", "num", same(A, bound(0)))))
+            if number is not False:
+                self.assertFalse(is_opened_to(("all", "num", same(bound(1), bound(number))), A, ("all", "num", same(A, bound(0)))))
+            self.assertFalse(is_opened_to(same(bound(number), A), A, same(A, A)))
+        self.assertFalse(is_opened_to(("all", "num", same(bound(1), bound(False))), A, ("all", "num", same(A, bound(0)))))
+        self.assertFalse(is_opened_to(same(("bound",), A), A, same(A, A)))
+        self.assertFalse(is_opened_to(same(("bound", 0, 0), A), A, same(A, A)))
+
+    def test_no_bodies(self):
+        for saying in (NO, same(A, ZERO), ("all", "num", same(bound(0), A)), ("and", NO, same(A, made("add", A, ZERO)))):
+            for thing in THINGS + [Alike(), list(saying), doubled(100), saying + saying, saying[:-1]]:
+                self.assertFalse(is_opened_to(thing, A, saying))
+                for at in range(len(saying)):
+                    self.assertFalse(is_opened_to(saying[:at] + (thing,) + saying[at + 1:], A, saying) and thing != saying[at])
+
+    def test_changed_by_chance(self):
+        """Whatever a thing is: it is a body that the term opens to the saying, or not."""
+        chance = random.Random(131)
+        told = {True: 0, False: 0}
+        things = THINGS + [Alike(), NO, A, ZERO, bound(0), bound(1), bound(True), "all", "some", "num", "list", "next", ("next",), (A,), (ZERO, A)]
+        for _ in range(4000):
+            body, term = chance.choice(self.BODIES), chance.choice(self.TERMS)
+            saying = opened(body, term)
+            for _ in range(chance.randrange(3)):
+                body = self.changed(chance, body, things)
+            due = is_body(GROUND, "num", body) and opened(body, term) == saying
+            self.assertIs(is_opened_to(body, term, saying), due, (body, term, saying))
+            told[due] += 1
+        self.assertGreater(min(told.values()), 800)
+
+    def changed(self, chance, thing, things):
+        """A thing with something else in some place."""
+        if not isinstance(thing, tuple) or thing == () or chance.random() < 0.2:
+            return chance.choice(things)
+        at = chance.randrange(len(thing))
+        return thing[:at] + (self.changed(chance, thing[at], things),) + thing[at + 1:]
 
 
 class TestShut(unittest.TestCase):
