@@ -31,7 +31,7 @@ def room_for(most):
 def kind_within(ground, thing, around, room):
     """The kind of a term within what binds these kinds, the nearest first; None where a thing is no term there."""
     room[0] -= 1
-    if room[0] < 0 or not isinstance(thing, tuple) or len(thing) not in (2, 3) or not isinstance(thing[0], str):
+    if room[0] < 0 or not isinstance(thing, tuple) or len(thing) == 0 or not isinstance(thing[0], str):
         return None
     word = thing[0]
     if word == "made" and len(thing) == 3:
@@ -48,9 +48,11 @@ def _kind_made(ground, f, parts, around, room):
     takes, gives = ground.takes_and_gives(f)
     if gives is None or room[0] < 0 or not isinstance(parts, tuple) or len(parts) != len(takes):
         return None
-    for part, kind in zip(parts, takes):
-        if kind_within(ground, part, around, room) != kind:
-            return None
+    # Many take nothing: for these no walk is begun.
+    if parts:
+        for part, kind in zip(parts, takes):
+            if kind_within(ground, part, around, room) != kind:
+                return None
     return gives
 
 
