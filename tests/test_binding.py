@@ -17,7 +17,7 @@ from tests.papersupport import (
     given,
     same,
 )
-from tests.support import ZERO, listed, made, name, num
+from tests.support import ZERO, Alike, listed, made, name, num
 
 X = bound(0)
 AL = name("a", "list")
@@ -135,11 +135,14 @@ class TestThere(RuleTest):
         self.breaks("there", [((), P)], "num", ("not", same(X, ZERO)), A)
 
     def test_brackets(self):
-        for thing in NO_KINDS:
+        for thing in NO_KINDS + [Alike()]:
             self.breaks("there", [((), P)], thing, same(X, ZERO), A)
+            self.breaks("there", [((), P)], thing, P, A)
         for thing in NO_SAYINGS:
             if thing != same(ZERO, X):
                 self.breaks("there", [((), P)], "num", thing, A)
+        for thing in (Alike(), same(Alike(), ZERO), same(bound(False), ZERO), same(("bound", Alike()), ZERO), same(("name", "a", Alike()), ZERO)):
+            self.breaks("there", [((), P)], "num", thing, A)
         for thing in NO_TERMS + [AL]:
             self.breaks("there", [((), P)], "num", same(X, ZERO), thing)
             self.breaks("there", [((), P)], "num", P, thing)
@@ -233,12 +236,14 @@ class TestPut(RuleTest):
             self.breaks("put", [((), P), ((), saying)], "num", same(B, X))
 
     def test_brackets(self):
-        for thing in NO_KINDS:
+        for thing in NO_KINDS + [Alike()]:
             self.breaks("put", [((), P), ((), Q)], thing, same(B, X))
             self.breaks("put", [((), P), ((), Q)], thing, Q)
         for thing in NO_SAYINGS:
             if thing != same(ZERO, X):
                 self.breaks("put", [((), P), ((), Q)], "num", thing)
+        for thing in (Alike(), same(B, Alike()), same(Alike(), X), same(B, bound(False)), same(("name", Alike(), "num"), X), same(("name", "b", Alike()), X)):
+            self.breaks("put", [((), P), ((), Q)], "num", thing)
         self.breaks("put", [((), P), ((), Q)], "list", Q)
         self.breaks("put", [((), same(AL, AL)), ((), Q)], "num", Q)
         self.breaks("put", [((), P), ((), Q)], "num", same(X, B))

@@ -191,6 +191,19 @@ class TestTold(KernelTest):
         self.assertEqual(act(Kernel(GROUND)), due)
 
 
+class TestHeldBySteps(KernelTest):
+    def test_for_each_step_of_the_paper(self):
+        """What was made twice stands in the paper once, and so does what it holds."""
+        kernel = Kernel(GROUND)
+        held = kernel.by_both(kernel.by_both(kernel.by_take(P), kernel.by_lent(((Q,), R))), kernel.by_both(kernel.by_take(P), kernel.by_lent(((Q,), R))))
+        paper = held.paper()
+        told = held.held_by_steps()
+        self.assertEqual(len(paper), 4)
+        self.assertEqual([("held",) + one for one in told], [read_paper(GROUND, held.lent(), paper[:at + 1]) for at in range(4)])
+        told.clear()
+        self.assertEqual(len(held.held_by_steps()), 4)
+
+
 class TestPapers(KernelTest):
     LENT = [((), P), ((P,), Q), ((), ("and", P, Q))]
 

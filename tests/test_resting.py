@@ -12,7 +12,7 @@ from goalsmith.reckoning import worth
 from goalsmith.resting import at_rest, rewrites, rewritten, to_rest
 from goalsmith.rules import held_rule
 from goalsmith.terms import signs_of
-from tests.papersupport import A, B, C, GROUND, NO, NO_NUMBERS, NO_TERMS, P, Q, given, same
+from tests.papersupport import A, B, C, GROUND, NO, NO_NUMBERS, NO_TERMS, P, Q, given, numbered, same
 from tests.rulesupport import (
     LEAF,
     TREES,
@@ -403,6 +403,26 @@ class TestAtRest(RestTest):
         self.holds([(more, False)], made("twice", A), made("twice", A))
         first = ("one", 0)
         self.holds([first, (more, False)], made("one"), num(1))
+
+    def test_more_given_than_may_be(self):
+        """At most sixty sayings are given at a step: where more go with the rules used, it is refused."""
+        kernel = Kernel(GROUND)
+        ones = numbered(61)
+
+        def with_given(sayings):
+            held = kernel.by_equation(made("one"))
+            for saying in sayings:
+                held = kernel.by_more(held, saying)
+            return held
+
+        twice = kernel.by_each(kernel.by_equation(made("twice", A)), "a", "num")
+        for saying in ones[30:60]:
+            twice = kernel.by_more(twice, saying)
+        term = made("twice", made("one"))
+        held = at_rest(kernel, [(with_given(ones[:30]), False), (twice, False)], term)
+        self.assertEqual((held.given(), held.saying()), (given(*ones[:60]), same(term, made("add", num(1), num(1)))))
+        self.assertEqual(read_paper(GROUND, [], held.paper()), ("held", held.given(), held.saying()))
+        refused(self, TooFar, at_rest, kernel, [(with_given(ones[:30] + ones[60:]), False), (twice, False)], term)
 
     def test_what_is_held_of_other_kernels(self):
         kernel = Kernel(GROUND)

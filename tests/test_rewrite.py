@@ -152,6 +152,13 @@ class TestGivenWithRules(WorkerTest):
         self.fails([(held, False)], goal(same(ONE, B), P, NO))
         self.fails([(held, False)], goal(same(ONE, B), Q))
 
+    def test_no_step_for_what_is_given_already(self):
+        """What goes with the rules used is given from the first rewrite on, and is not put to what is given once more."""
+        one, other = alls(same(add(X, ZERO), X), "num"), alls(same(made("twice", X), X), "num")
+        sources = [(taken(one, GROUND), False), (taken(other, GROUND), False)]
+        _, way = self.works(sources, goal(same(add(made("twice", A), ZERO), A), one, other))
+        self.assertNotIn("more", [rule for rule, _, _ in way])
+
     def test_with_nothing_given(self):
         kernel = Kernel(GROUND)
         held = kernel.by_each(kernel.by_equation(add(ZERO, A)), "a", "num")
