@@ -17,6 +17,8 @@ def of_both_cases(way, case, one, other):
 class ByCases(Worker):
     """Any saying, by another one and its contrary."""
 
+    STEADY = True
+
     def __init__(self, saying):
         self._case = saying
 
@@ -33,6 +35,8 @@ class ByCases(Worker):
 
 class ByMakers(Worker):
     """Any saying, by the makers of a term's kind."""
+
+    STEADY = True
 
     def __init__(self, term):
         self._term = term

@@ -2,7 +2,7 @@
 
 from goalsmith.errors import Fails
 from goalsmith.takings import Row, laid_out
-from goalsmith.workers import Worker, need_goal
+from goalsmith.workers import Worker, are_steady, need_goal
 
 
 class Finder(Worker):
@@ -12,6 +12,7 @@ class Finder(Worker):
         self._workers = list(workers)
         self._most = tries
         self._tries = 0
+        self._steady = are_steady(self._workers)
 
     def work(self, ground, goal):
         """The goals of the first of the shortest rows that stood, and the way back from these."""
@@ -25,6 +26,10 @@ class Finder(Worker):
     def tried(self):
         """How many tries the last work took."""
         return self._tries
+
+    def is_steady(self):
+        """Whether all workers that it tries are steady."""
+        return self._steady
 
 
 class Search:

@@ -10,6 +10,8 @@ from goalsmith.workers import Worker
 class Down(Worker):
     """A saying of a name, by the makers of the name's kind; it may be held of all of some others, too."""
 
+    STEADY = True
+
     def __init__(self, x, kind, others):
         self._x = x
         self._kind = kind

@@ -4,9 +4,9 @@ Each puts its parts to goals straight, by few calls: fifty of them may stand one
 """
 
 from goalsmith.errors import Fails
-from goalsmith.takings import Row, taken_as
+from goalsmith.takings import LastTold, Row, taken_as
 from goalsmith.ways import demand
-from goalsmith.workers import Worker, need_goal
+from goalsmith.workers import Worker, are_steady, need_goal
 
 
 class Then(Worker):
@@ -16,23 +16,31 @@ class Then(Worker):
         self._one = one
         self._other = other
         self.has_again = _have_again([one, other])
+        self._steady = are_steady([one, other])
 
     def work(self, ground, goal):
         """What the other leaves of each goal."""
         need_goal(ground, goal)
         # A row joined from the left may be long: each of it is put to the goals in turn, none within another.
         workers = []
-        last = self
-        while isinstance(last, Then):
-            workers.append(last._other)
-            last = last._one
+        first = self
+        while isinstance(first, Then):
+            workers.append(first._other)
+            first = first._one
         row = Row(goal)
-        for worker in [last] + workers[::-1]:
+        for worker in [first] + workers[::-1]:
+            last = LastTold(self._steady)
             parts = []
             for one in row.goals_left():
-                parts.append(taken_as(worker.work(ground, one)))
+                if not last.is_of(one):
+                    last.note(one, worker.work(ground, one))
+                parts.append(taken_as(last.answer()))
             row.take_on(parts)
         return row.ended()
+
+    def is_steady(self):
+        """Whether all that it is made of is steady."""
+        return self._steady
 
 
 class Else(Worker):
@@ -42,6 +50,7 @@ class Else(Worker):
         self._one = one
         self._other = other
         self.has_again = _have_again([one, other])
+        self._steady = are_steady([one, other])
 
     def work(self, ground, goal):
         """What the first one leaves that doesn't fail."""
@@ -60,6 +69,10 @@ class Else(Worker):
                 continue
         return row[-1].work(ground, goal)
 
+    def is_steady(self):
+        """Whether all that it is made of is steady."""
+        return self._steady
+
 
 class Try(Worker):
     """One worker; where it fails, the goal itself is left."""
@@ -67,6 +80,7 @@ class Try(Worker):
     def __init__(self, one):
         self._one = one
         self.has_again = _have_again([one])
+        self._steady = are_steady([one])
 
     def work(self, ground, goal):
         """What the one leaves, or the goal."""
@@ -76,6 +90,10 @@ class Try(Worker):
         except Fails:
             return Row(goal).ended()
 
+    def is_steady(self):
+        """Whether all that it is made of is steady."""
+        return self._steady
+
 
 class Each(Worker):
     """One worker, then on each goal left a worker of its own."""
@@ -84,6 +102,7 @@ class Each(Worker):
         self._one = one
         self._workers = list(workers)
         self.has_again = _have_again([one] + self._workers)
+        self._steady = are_steady([one] + self._workers)
 
     def work(self, ground, goal):
         """What its own worker leaves of each goal."""
@@ -98,6 +117,10 @@ class Each(Worker):
         row.take_on(parts)
         return row.ended()
 
+    def is_steady(self):
+        """Whether all that it is made of is steady."""
+        return self._steady
+
 
 class Again(Worker):
     """One worker, and again on each goal left, as long as it doesn't fail, and at most so many times in all."""
@@ -106,6 +129,7 @@ class Again(Worker):
         self._one = one
         self._most = most
         self.has_again = True
+        self._steady = are_steady([one])
 
     def work(self, ground, goal):
         """What is left where the one fails, or has been put often enough."""
@@ -123,6 +147,10 @@ class Again(Worker):
             # The one within has been put once.
             ahead = 1
         return row.ended()
+
+    def is_steady(self):
+        """Whether all that it is made of is steady."""
+        return self._steady
 
     def _from_the_innermost(self):
         """Those that stand straight one within another, this one last; each goes on where that within it ended."""
@@ -142,8 +170,11 @@ class Times:
         self._worker = worker
         self._left = most
         self._still = False
+        steady = are_steady([worker])
         # Where one within another would do nothing again and again, it would take for ever.
-        self._skips = _have_again([worker])
+        self._skips = steady or _have_again([worker])
+        # Often the first goal that comes is the one out of which it came, and the same comes of it once more.
+        self._last = LastTold(steady)
 
     def taken(self, goal):
         """What comes of a goal: takings, and the goals that these left."""
@@ -152,10 +183,7 @@ class Times:
         waiting = [goal]
         while waiting:
             first = waiting.pop(0)
-            try:
-                told = self._worker.work(self._ground, first) if self._left > 0 else None
-            except Fails:
-                told = None
+            told = self._told_of(first) if self._left > 0 else None
             if told is None:
                 takings.append(None)
                 left.append(first)
@@ -168,6 +196,15 @@ class Times:
                 takings.append((way, len(goals)))
                 waiting = goals + waiting
         return takings, left
+
+    def _told_of(self, goal):
+        """What the worker tells of a goal, or None where it fails."""
+        if not self._last.is_of(goal):
+            try:
+                self._last.note(goal, self._worker.work(self._ground, goal))
+            except Fails:
+                self._last.note(goal, None)
+        return self._last.answer()
 
     def _note_still(self):
         """The worker left just the goal itself: so it will each time from now on, till none is left."""
@@ -185,6 +222,7 @@ class Closed(Worker):
     def __init__(self, one):
         self._one = one
         self.has_again = _have_again([one])
+        self._steady = are_steady([one])
 
     def work(self, ground, goal):
         """No goals."""
@@ -192,6 +230,10 @@ class Closed(Worker):
         goals, way = self._one.work(ground, goal)
         demand(not goals, "goals are left")
         return goals, way
+
+    def is_steady(self):
+        """Whether all that it is made of is steady."""
+        return self._steady
 
 
 def _have_again(workers):

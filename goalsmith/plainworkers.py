@@ -9,6 +9,8 @@ from goalsmith.workers import Worker
 class Given(Worker):
     """What is given."""
 
+    STEADY = True
+
     def work(self, ground, goal):
         """The goals that are left, and the way back from these to the goal."""
         return super().work(ground, goal)
@@ -21,6 +23,8 @@ class Given(Worker):
 
 class Alike(Worker):
     """t = t."""
+
+    STEADY = True
 
     def work(self, ground, goal):
         """The goals that are left, and the way back from these to the goal."""
@@ -36,6 +40,8 @@ class Alike(Worker):
 class Both(Worker):
     """A and B."""
 
+    STEADY = True
+
     def work(self, ground, goal):
         """The goals that are left, and the way back from these to the goal."""
         return super().work(ground, goal)
@@ -48,6 +54,8 @@ class Both(Worker):
 
 class First(Worker):
     """A or B."""
+
+    STEADY = True
 
     def work(self, ground, goal):
         """The goals that are left, and the way back from these to the goal."""
@@ -62,6 +70,8 @@ class First(Worker):
 class Second(Worker):
     """A or B."""
 
+    STEADY = True
+
     def work(self, ground, goal):
         """The goals that are left, and the way back from these to the goal."""
         return super().work(ground, goal)
@@ -74,6 +84,8 @@ class Second(Worker):
 
 class Suppose(Worker):
     """A so B, or not A."""
+
+    STEADY = True
 
     def work(self, ground, goal):
         """The goals that are left, and the way back from these to the goal."""
@@ -91,6 +103,8 @@ class Suppose(Worker):
 class Fix(Worker):
     """All."""
 
+    STEADY = True
+
     def work(self, ground, goal):
         """The goals that are left, and the way back from these to the goal."""
         return super().work(ground, goal)
@@ -104,6 +118,8 @@ class Fix(Worker):
 
 class Show(Worker):
     """Some."""
+
+    STEADY = True
 
     def __init__(self, term):
         self._term = term
@@ -123,6 +139,8 @@ class Show(Worker):
 class Cut(Worker):
     """Any saying, by way of another one."""
 
+    STEADY = True
+
     def __init__(self, saying):
         self._between = saying
 
@@ -139,6 +157,8 @@ class Cut(Worker):
 class Contrary(Worker):
     """Any saying, by the contrary."""
 
+    STEADY = True
+
     def work(self, ground, goal):
         """The goals that are left, and the way back from these to the goal."""
         return super().work(ground, goal)
@@ -151,6 +171,8 @@ class Contrary(Worker):
 class Absurd(Worker):
     """Any saying, of no."""
 
+    STEADY = True
+
     def work(self, ground, goal):
         """The goals that are left, and the way back from these to the goal."""
         return super().work(ground, goal)
@@ -162,6 +184,8 @@ class Absurd(Worker):
 
 class Apart(Worker):
     """Any saying, by what a given one is put together of."""
+
+    STEADY = True
 
     def __init__(self, number):
         self._number = number
@@ -245,6 +269,8 @@ APART = {
 class At(Worker):
     """Any saying, by a given one of all."""
 
+    STEADY = True
+
     def __init__(self, number, term):
         self._number = number
         self._term = term
@@ -265,6 +291,8 @@ class At(Worker):
 
 class Put(Worker):
     """A body opened by t, where s = t is given."""
+
+    STEADY = True
 
     def __init__(self, number, kind, body):
         self._number = number

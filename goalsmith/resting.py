@@ -175,6 +175,8 @@ def _put_one_by_one(way, sources, rules, told, start, pairs):
 class Rewrite(Worker):
     """Any saying, by that of the rest forms of what stands in it."""
 
+    STEADY = True
+
     def __init__(self, sources, most=100):
         self._sources = list(sources)
         self._most = most

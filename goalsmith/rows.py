@@ -68,6 +68,8 @@ def _truth(saying, row):
 class ByRows(Worker):
     """Any saying that is true in each row of truths at which all that is given is."""
 
+    STEADY = True
+
     def work(self, ground, goal):
         """The goals that are left, and the way back from these to the goal."""
         return super().work(ground, goal)

@@ -73,3 +73,25 @@ def taken_as(told):
     """What a worker told of a goal to which it was put, as takings, and the goals that these left."""
     goals, way = told
     return [(way, len(goals))] + [None for _ in goals], goals
+
+
+class LastTold:
+    """What a worker told last, while it is put to goals, one behind another."""
+
+    def __init__(self, steady):
+        self._steady = steady
+        self._goal = None
+        self._told = None
+
+    def is_of(self, goal):
+        """Whether the worker is known to tell just this of a goal, too."""
+        return self._steady and self._goal == goal
+
+    def note(self, goal, told):
+        """Keep what it told of a goal instead."""
+        self._goal = goal
+        self._told = told
+
+    def answer(self):
+        """What it told last."""
+        return self._told

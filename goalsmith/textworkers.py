@@ -10,6 +10,8 @@ from goalsmith.workers import Worker
 class PutAt(Worker):
     """A saying in which t stands, where s = t is given."""
 
+    STEADY = True
+
     def __init__(self, number, place):
         self._number = number
         self._place = place
@@ -49,6 +51,8 @@ def _meant_at(thing, place, deep):
 
 class Use(Worker):
     """Any saying, by way of a held one."""
+
+    STEADY = True
 
     def __init__(self, held, terms):
         self._held = held

@@ -14,6 +14,9 @@ def need_goal(ground, thing):
 class Worker:
     """Turns a goal into goals, with a way that leads back, or fails; it keeps nothing of the goal."""
 
+    # Each of this package is so; of one made elsewhere it isn't known, and it may count how often it is put.
+    STEADY = False
+
     def work(self, ground, goal):
         """The goals that are left, and the way back from these to the goal, which may be anything."""
         need_goal(ground, goal)
@@ -26,6 +29,18 @@ class Worker:
             raise Fails("what would be rewritten makes no rule, or would not come to rest")
         return way.ended(number)
 
+    def is_steady(self):
+        """Whether it is known that, put to a goal once more, it tells just what it told of it before."""
+        return self.STEADY
+
     def turned(self, way):
         """Leave goals and write steps; the number of the step that holds the goal's saying."""
         raise Fails("this worker knows no way")
+
+
+def are_steady(workers):
+    """Whether all of these workers are steady."""
+    for worker in workers:
+        if not isinstance(worker, Worker) or not worker.is_steady():
+            return False
+    return True

@@ -49,6 +49,12 @@ class Probe(Worker):
         return self._one.work(ground, goal)
 
 
+class Steady(Probe):
+    """A probe of which it is known that it tells the same of a goal each time."""
+
+    STEADY = True
+
+
 class JoinedTest(unittest.TestCase):
     def works(self, worker, one, *due, ground=GROUND):
         return works(self, worker, one, list(due), ground)
@@ -289,6 +295,103 @@ class Swing(Worker):
         return [(given, Q if saying == P else P)], [("lent", (), (0,))]
 
 
+class TestOfTheSameGoal(JoinedTest):
+    """Where the same would come of a goal once more, a worker of the package isn't put to it again."""
+
+    def seen(self, make, one, *due):
+        """Put to the goal, what is made of a probe leaves what it leaves of one that is put each time; what it saw."""
+        probe, steady = Probe(Worker()), Steady(Worker())
+        told = make(probe).work(GROUND, one)
+        self.assertEqual(make(steady).work(GROUND, one), told)
+        self.assertEqual(told[0], list(due))
+        reads(self, GROUND, one, *told)
+        return probe.seen, steady.seen
+
+    def put(self, worker, make):
+        """What makes a worker of a probe, with the worker in it."""
+        def made(probe):
+            probe._one = worker
+            return make(probe)
+        return made
+
+    def test_the_goal_itself(self):
+        one, denied = goal(NO, P), goal(NO, P, ("not", NO))
+        for most in (1, 2, 50, 200):
+            often, once = self.seen(self.put(Absurd(), lambda probe: Again(probe, most)), one, one)
+            self.assertEqual((often, once), ([one] * most, [one]))
+        often, twice = self.seen(self.put(Contrary(), lambda probe: Again(probe, 50)), one, denied)
+        self.assertEqual((often, twice), ([one] + [denied] * 49, [one, denied]))
+
+    def test_the_first_goal(self):
+        """The goal that comes first is the one out of which it came, but others come behind it."""
+        one = goal(Q)
+        due = [goal(P)] + [goal(P, P)] * 6 + [goal(Q, P)]
+        often, twice = self.seen(self.put(Cut(P), lambda probe: Again(probe, 7)), one, *due)
+        self.assertEqual((often, twice), ([one] + [goal(P)] * 6, [one, goal(P)]))
+        due = [goal(Q, P)] + [goal(Q, P, ("not", P))] * 3 + [goal(Q, ("not", P))]
+        often, twice = self.seen(self.put(ByCases(P), lambda probe: Again(probe, 4)), one, *due)
+        self.assertEqual((often, twice), ([one] + [goal(Q, P)] * 3, [one, goal(Q, P)]))
+
+    def test_goals_behind_one_another(self):
+        one = goal(("and", P, ("and", P, ("and", Q, P))))
+        parts = [goal(P), goal(P), goal(Q), goal(P)]
+        often, few = self.seen(self.put(Try(Given()), lambda probe: Then(Again(Both(), 9), probe)), one, *parts)
+        self.assertEqual((often, few), (parts, parts[1:]))
+        often, few = self.seen(self.put(Absurd(), lambda probe: Then(Again(Both(), 9), probe)), one, *[goal(NO)] * 4)
+        self.assertEqual((often, few), (parts, parts[1:]))
+
+    def test_where_it_fails(self):
+        one = goal(("and", P, ("and", P, ("not", Q))))
+        often, few = self.seen(self.put(Else(Suppose(), Both()), lambda probe: Again(probe, 9)), one, goal(P), goal(P), goal(NO, Q))
+        self.assertEqual(often, [one, goal(P), goal(one[1][2]), goal(P), goal(("not", Q)), goal(NO, Q)])
+        self.assertEqual(few, often)
+        often, few = self.seen(self.put(Both(), lambda probe: Again(Else(probe, Given()), 9)), goal(("and", P, P)), goal(P), goal(P))
+        self.assertEqual((often, few), ([goal(("and", P, P)), goal(P), goal(P)], [goal(("and", P, P)), goal(P)]))
+
+    def test_one_that_is_not_known_among_others(self):
+        """It is put each time, in whatever it stands."""
+        one = goal(NO)
+        for make in (
+            lambda probe: Then(probe, Absurd()),
+            lambda probe: Then(Absurd(), probe),
+            lambda probe: Else(probe, Absurd()),
+            lambda probe: Else(Given(), probe),
+            lambda probe: Try(probe),
+            lambda probe: Each(probe, [Absurd()]),
+            lambda probe: Each(Absurd(), [probe]),
+            lambda probe: Try(Closed(probe)),
+            lambda probe: Else(Closed(Given()), Then(Try(Then(Absurd(), probe)), Absurd())),
+        ):
+            often, once = self.seen(self.put(Absurd(), lambda probe: Again(make(probe), 6)), one, one)
+            self.assertEqual((often, once), ([one] * 6, [one]))
+        often, once = self.seen(self.put(Absurd(), lambda probe: Again(Finder([Given(), probe], 9), 6)), one, one)
+        self.assertEqual(len(often), 6 * len(once))
+
+    def test_what_finders_tell(self):
+        one = goal(("or", P, Q), R)
+        for workers in ([], [Absurd()], [First(), Second(), Given()], [Given(), Absurd(), Contrary()]):
+            finder, other = Finder(workers, 7), Finder(workers, 7)
+            due = other.work(GROUND, one)
+            for again in (Again(finder, 5), Again(Then(Try(Given()), finder), 5), Then(finder, finder)):
+                self.assertEqual(again.work(GROUND, one), due)
+                self.assertEqual(finder.tried(), other.tried())
+
+    def test_other_goals_between(self):
+        again, then = Again(Contrary(), 9), Then(Try(Both()), Contrary())
+        rows = [goal(NO), goal(P), goal(NO), goal(NO, ("not", NO)), goal(("and", P, P)), goal(("and", P, Q)), goal(P)]
+        for worker, fresh in ((again, lambda: Again(Contrary(), 9)), (then, lambda: Then(Try(Both()), Contrary()))):
+            for one in rows + rows[::-1]:
+                self.assertEqual(worker.work(GROUND, one), fresh().work(GROUND, one))
+
+    def test_what_is_told_is_the_askers_own(self):
+        for worker in (Again(Absurd(), 9), Again(Cut(P), 9), Then(Again(Cut(P), 9), Contrary())):
+            was = worker.work(GROUND, goal(NO))
+            goals, way = worker.work(GROUND, goal(NO))
+            goals.append(goal(Q))
+            way.clear()
+            self.assertEqual(worker.work(GROUND, goal(NO)), was)
+
+
 class TestClosed(JoinedTest):
     def test_closed(self):
         self.works(Closed(Given()), goal(P, P))
@@ -407,6 +510,26 @@ class TestByChance(JoinedTest):
                 done[word] = done.get(word, 0) + 1
         self.assertEqual(sorted(done), sorted(["then", "else", "try", "again", "each", "closed", "leaf"]))
         self.assertGreater(sum(done.values()), 400)
+
+    def probed(self, tree):
+        """The tree with a probe around each leaf: none of it is known to tell the same each time."""
+        if isinstance(tree, Worker):
+            return Probe(tree)
+        return tuple([self.probed(one) for one in part] if isinstance(part, list) else self.probed(part) if isinstance(part, (tuple, Worker)) else part
+                     for part in tree)
+
+    def test_as_if_put_each_time(self):
+        """What is told, ways too, is what is told where each worker is put each time."""
+        chance = random.Random(89)
+        told = 0
+        for _ in range(800):
+            tree = ("again", self.tree(chance, 2), chance.choice([2, 7, 20]))
+            one = goal(self.saying(chance, 2), *[self.saying(chance, 1) for _ in range(chance.randrange(4))])
+            due = self.told(made_of(self.probed(tree)), GROUND, one)
+            self.assertEqual(self.told(made_of(tree), GROUND, one), due)
+            self.assertEqual(self.told(Then(made_of(tree), Contrary()), GROUND, one), self.told(Then(made_of(self.probed(tree)), Probe(Contrary())), GROUND, one))
+            told += due != ([one], [("lent", (), (0,))])
+        self.assertGreater(told, 200)
 
     def test_several_goals_and_grounds(self):
         """A worker put to another goal, and to one of another ground, between."""

@@ -114,6 +114,16 @@ def bound_names(tree):
     return names
 
 
+def class_values():
+    """For each class the values that stand in its body, by their names."""
+    found = []
+    for tree in TREES.values():
+        for node in tree.body:
+            if isinstance(node, ast.ClassDef):
+                found.append({target.id: part.value for part in node.body if isinstance(part, ast.Assign) for target in part.targets})
+    return found
+
+
 class TestLanguage(unittest.TestCase):
     def test_files(self):
         self.assertIn(FOLDER / "__init__.py", FILES)
@@ -225,8 +235,16 @@ class TestLanguage(unittest.TestCase):
                     (stored if isinstance(node.ctx, ast.Store) else read).append(node.attr)
                 if isinstance(node, ast.ClassDef):
                     methods += [part.name for part in node.body if isinstance(part, ast.FunctionDef)]
+        values = [name for told in class_values() for name in told]
         self.assertEqual(sorted(set(stored) & set(methods)), [])
-        self.assertEqual(sorted(set(read) - set(stored) - set(methods) - set(METHODS)), [])
+        self.assertEqual(sorted(set(values) & set(stored + methods)), [])
+        self.assertEqual(sorted(set(read) - set(stored) - set(methods) - set(METHODS) - set(values)), [])
+
+    def test_class_values(self):
+        for told in class_values():
+            for name, value in told.items():
+                self.assertRegex(name, r"\A[A-Z]+\Z")
+                self.assertIsInstance(value, ast.Constant, name)
 
 
 class TestInterface(unittest.TestCase):
